@@ -1,0 +1,40 @@
+"""What is asked of any object before it is taken: words, counts, maps."""
+
+LETTERS = "abcdefghijklmnopqrstuvwxyz"
+
+
+def is_word(value):
+    """Whether any object is a string of one to eight letters from a to z."""
+    if not isinstance(value, str) or len(value) < 1 or len(value) > 8:
+        return False
+    return all([letter in LETTERS for letter in value])
+
+
+def is_count_below(value, bound):
+    """Whether any object is a count below a bound; True and False are none."""
+    if not isinstance(value, int) or isinstance(value, bool):
+        return False
+    return 0 <= value < bound
+
+
+def is_one_of(value, words):
+    """Whether any object is one of some strings: what is no string cannot always be looked up."""
+    return isinstance(value, str) and value in words
+
+
+def is_row_of(value, words):
+    """Whether any object is a list of some strings, each perhaps more than once."""
+    if not isinstance(value, list):
+        return False
+    return all([is_one_of(each, words) for each in value])
+
+
+def is_map_to_words(value, words):
+    """Whether any object is a dictionary from just these strings to unlike words."""
+    if not isinstance(value, dict) or len(value) != len(words):
+        return False
+    if not all([word in value for word in words]):
+        return False
+    if not all([is_word(value[word]) for word in words]):
+        return False
+    return len({value[word] for word in words}) == len(words)

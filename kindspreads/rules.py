@@ -195,4 +195,4 @@ def parting_triple(one, other):
 def is_parting_triple(one, other, value):
     """Whether any object is a tuple of a side and a triple that is in just one of two rules."""
     _need_like_rules(one, other)
-    return isinstance(value, tuple) and value in _parting_triples(one, other)
+    return value in _parting_triples(one, other)

@@ -8,6 +8,7 @@ CLASSES = {
     "kinds": {"Kinds": ("plus times", {"plus": "", "times": "", "words": "", "add": "first second",
                                        "multiply": "first second", "__eq__": "other"})},
     "rules": {"Rule": ("kinds left right", {"kinds": "", "left": "", "right": "", "__eq__": "other"})},
+    "terms": {"Book": ("rule things", {"rule": "", "things": "", "__eq__": "other"})},
 }
 FUNCTIONS = {
     "kinds": {
@@ -19,6 +20,26 @@ FUNCTIONS = {
         "rule_without": "rule left right", "meet_rule": "one other", "union_rule": "one other",
         "is_within": "one other", "mirrored_rule": "rule", "renamed_rule": "rule sent",
         "parting_triple": "one other", "is_parting_triple": "one other value",
+    },
+    "terms": {
+        "is_term": "book value", "text_of": "term", "term_of": "text", "parts_of": "book term", "kind_of": "book term",
+        "sum_of": "book terms", "product_of": "book terms", "inner_terms": "book term", "depth": "book term",
+        "put_in": "book term sent", "mirrored_book": "book", "mirrored_term": "book term", "with_things": "book sent",
+        "term_sent": "book term sent",
+    },
+    "wholes": {
+        "words_of": "book term", "many_words": "book term", "word_things": "book term",
+        "have_like_words": "book one other", "parting_word": "book one other", "whole_of": "book term",
+        "is_whole": "book term", "is_small": "book term",
+    },
+    "spreads": {
+        "spreads": "book term", "gatherings": "book term", "many_things": "book term", "copied": "book term outcome",
+        "is_spread": "book term value", "is_gathering": "book term value", "cases": "book term",
+        "cases_of": "book term outcome", "lacking": "book term",
+    },
+    "shapes": {
+        "shapes": "", "shape_term": "rule number row", "is_settled": "rule", "unsettled": "rule",
+        "is_unsettled": "rule value", "settled_within": "rule", "are_settled_beside": "rule left right",
     },
 }
 

@@ -1,0 +1,162 @@
+"""Shapes: the small terms that settle whether full spreads of a rule hang on what is spread first."""
+
+from itertools import combinations
+
+from kindspreads.errors import InvalidCount, InvalidKinds
+from kindspreads.moves import full_nodes, led_on, spread_moves
+from kindspreads.nodes import Ground, by_text, flat_product, flat_sum, plain_term, thing_node
+from kindspreads.plain import LETTERS, is_count_below, is_row_of
+from kindspreads.rules import Rule, both_ways, is_within, need_rule, rule_with, turned
+from kindspreads.terms import Book, ground_of, node_in
+
+SHAPES = (
+    (1, 2), (1, 1, 2), (2, 1), (2, 1, 1), (1, 2, 1),
+    (1, 3), (1, 1, 3), (3, 1), (3, 1, 1), (1, 3, 1),
+    (1, 4), (1, 1, 4), (4, 1), (4, 1, 1), (1, 4, 1),
+    (2, 2), (1, 2, 2), (2, 1, 2), (2, 2, 1),
+    (1, 2, 1, 2), (1, 2, 2, 1), (2, 1, 2, 1), (1, 2, 1, 2, 1),
+    (1, 1, 2, 2), (1, 1, 2, 1, 2), (2, 2, 1, 1), (2, 1, 2, 1, 1), (2, 1, 1, 2), (2, 1, 1, 1, 2),
+)
+
+
+def shapes():
+    """The list of the 29 shapes, each a list of numbers."""
+    return [list(shape) for shape in SHAPES]
+
+
+def shape_term(rule, number, row):
+    """A book of the rule and its term of a shape whose things, from left to right, are of these kinds."""
+    need_rule(rule)
+    if not is_count_below(number, len(SHAPES)):
+        raise InvalidCount(number)
+    if not _is_row_of_shape(rule, number, row):
+        raise InvalidKinds(row)
+    book = _shape_book(rule, row)
+    return book, plain_term(_shape_node(ground_of(book), number, LETTERS))
+
+
+def _is_row_of_shape(rule, number, value):
+    return is_row_of(value, rule.kinds().words()) and len(value) == sum(SHAPES[number])
+
+
+def _shape_book(rule, row):
+    others = [kind for kind in rule.kinds().words() if kind not in row]
+    return Book(rule, {LETTERS[at]: kind for at, kind in enumerate(row + others)})
+
+
+def _shape_node(ground, number, things):
+    factors = []
+    at = 0
+    for many in SHAPES[number]:
+        factors.append(flat_sum(ground, [thing_node(ground, thing) for thing in things[at:at + many]]))
+        at += many
+    return flat_product(ground, factors)
+
+
+def is_settled(rule):
+    """Whether each term of ANY size has one full spread, whatever is spread first."""
+    need_rule(rule)
+    return _parting_row(rule) is None
+
+
+def unsettled(rule):
+    """Any tuple of a shape's number, a row and two unlike full spreads, None of a settled rule."""
+    need_rule(rule)
+    found = _parting_row(rule)
+    if found is None:
+        return None
+    number, row = found[0], list(found[1])
+    fulls = by_text(list(_fulls_of_shape(_shape_book(rule, row), number).values()))
+    return number, row, fulls[0], fulls[1]
+
+
+def is_unsettled(rule, value):
+    """Whether any object is a shape's number, a row and two unlike full spreads of its term."""
+    need_rule(rule)
+    if not isinstance(value, tuple) or len(value) != 4:
+        return False
+    number, row, one, other = value
+    if not is_count_below(number, len(SHAPES)) or not _is_row_of_shape(rule, number, row):
+        return False
+    book = _shape_book(rule, row)
+    nodes = [node_in(ground_of(book), term) for term in (one, other)]
+    if None in nodes or nodes[0].text == nodes[1].text:
+        return False
+    fulls = _fulls_of_shape(book, number)
+    return all([node.text in fulls for node in nodes])
+
+
+def _fulls_of_shape(book, number):
+    ground = ground_of(book)
+    return full_nodes(ground, _shape_node(ground, number, LETTERS))
+
+
+def _parting_row(rule):
+    """A shape's number and a row of kinds whose term has unlike full spreads, None if there is none."""
+    if "parting row" not in rule.reckoned:
+        rule.reckoned["parting row"] = _parting_row_anew(rule)
+    return rule.reckoned["parting row"]
+
+
+def _parting_row_anew(rule):
+    words = rule.kinds().words()
+    # A thing is named by its letter and its kind, so that what was led on serves for all rows.
+    ground = Ground(rule, {letter + kind: kind for letter in LETTERS for kind in words})
+    for number in range(len(SHAPES)):
+        known = {}
+        for row in _rows_of_shape(number, words):
+            things = [LETTERS[at] + kind for at, kind in enumerate(row)]
+            if _are_parted(ground, _shape_node(ground, number, things), known):
+                return number, tuple(row)
+    return None
+
+
+def _are_parted(ground, node, known):
+    """Whether single spreads of a node, each led on in one way, end in unlike terms."""
+    moves = spread_moves(ground, node)
+    return len({led_on(ground, outcome, known).text for outcome, _ in moves}) > 1
+
+
+def _rows_of_shape(number, words):
+    """The rows of kinds for a shape, those of each sum ascending: its things may be exchanged."""
+    rows = [[]]
+    for many in SHAPES[number]:
+        rows = [row + lot for row in rows for lot in _ascending_rows(many, words)]
+    return rows
+
+
+def _ascending_rows(many, words):
+    rows = [[]]
+    for _ in range(many):
+        rows = [row + [word] for row in rows for word in words if not row or row[-1] <= word]
+    return rows
+
+
+def settled_within(rule):
+    """The ascending list of the left and right triples of the greatest settled rules within a rule."""
+    need_rule(rule)
+    found = []
+    cases = _cases_once(rule)
+    for many in range(len(cases), -1, -1):
+        for chosen in combinations(cases, many):
+            lesser = _rule_of_cases(rule.kinds(), chosen)
+            if not any([is_within(lesser, greater) for greater in found]) and is_settled(lesser):
+                found.append(lesser)
+    return sorted([(lesser.left(), lesser.right()) for lesser in found])
+
+
+def _cases_once(rule):
+    """The words and triples of a rule, of each two that are turned about in the sum just one."""
+    told = [("left", triple) for triple in rule.left()] + [("right", triple) for triple in rule.right()]
+    return [(word, triple) for word, triple in told if triple <= turned(word, triple)]
+
+
+def _rule_of_cases(kinds, cases):
+    left = both_ways(kinds, "left", [triple for word, triple in cases if word == "left"])
+    right = both_ways(kinds, "right", [triple for word, triple in cases if word == "right"])
+    return Rule(kinds, left, right)
+
+
+def are_settled_beside(rule, left, right):
+    """Whether the rule with further triples is settled."""
+    return is_settled(rule_with(rule, left, right))

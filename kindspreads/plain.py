@@ -38,3 +38,12 @@ def is_map_to_words(value, words):
     if not all([is_word(value[word]) for word in words]):
         return False
     return len({value[word] for word in words}) == len(words)
+
+
+def name_at(place):
+    """The word at a place of a, b, .., z, aa, ab, .., az, ba, ..: there is always a next one."""
+    name = LETTERS[place % 26]
+    while place >= 26:
+        place = place // 26 - 1
+        name = LETTERS[place % 26] + name
+    return name

@@ -5,7 +5,7 @@ from itertools import combinations
 from kindspreads.errors import InvalidCount, InvalidKinds
 from kindspreads.moves import full_nodes, led_on, spread_moves
 from kindspreads.nodes import Ground, by_text, flat_product, flat_sum, plain_term, thing_node
-from kindspreads.plain import LETTERS, is_count_below, is_row_of
+from kindspreads.plain import LETTERS, is_count_below, is_row_of, name_at
 from kindspreads.rules import Rule, both_ways, is_within, need_rule, rule_with, turned
 from kindspreads.terms import Book, ground_of, node_in
 
@@ -41,7 +41,7 @@ def _is_row_of_shape(rule, number, value):
 
 def _shape_book(rule, row):
     others = [kind for kind in rule.kinds().words() if kind not in row]
-    return Book(rule, {LETTERS[at]: kind for at, kind in enumerate(row + others)})
+    return Book(rule, {name_at(at): kind for at, kind in enumerate(row + others)})
 
 
 def _shape_node(ground, number, things):

@@ -143,6 +143,15 @@ class ShapeTermTest(unittest.TestCase):
         book, _ = shape_term(stop_rule(), 2, ["p", "p", "w"])
         self.assertEqual(list(book.things()), ["a", "b", "c"])
 
+    def test_more_kinds_than_letters(self):
+        words = sorted([first + second for first in "abcdef" for second in "abcdef"])[:30]
+        kinds = Kinds({(x, y): min(x, y) for x in words for y in words}, {(x, y): x for x in words for y in words})
+        rule = Rule(kinds, [], [])
+        book, term = shape_term(rule, 0, ["ab"] * 3)
+        self.assertEqual([text_of(term), len(book.things())], ["a (b + c)", 32])
+        self.assertEqual([book.things()[thing] for thing in "abc"], ["ab"] * 3)
+        self.assertIs(is_unsettled(rule, (0, ["ab"] * 3, term, term)), False)
+
     def test_wrong_arguments(self):
         row = ["p", "p", "p"]
         wrong_rows = [None, True, [], ("p", "p", "p"), "ppp", ["p", "p"], ["p", "p", "p", "p"], ["p", "p", "v"],

@@ -1,61 +1,76 @@
 """Single spreads and gatherings of nodes, and how a node is led on to a full spread."""
 
-from kindspreads.nodes import flat, flat_product, flat_sum, with_part
+from kindspreads.kinds import put_together
+from kindspreads.nodes import flat, flat_product, flat_sum, summands_together, with_part
 from kindspreads.rules import turned
 
 
-class Opening:
-    """A place at which a product could spread: a block, and a sum beside it cut into two lots."""
+class Place:
+    """A place at which a product could spread: a sum among its factors, and a block directly beside it."""
 
-    def __init__(self, case, first, last, halves):
-        # A case is a word and the kinds; the factors from first to last are the block and the sum;
-        # each half is the row of nodes of a product: the block and a lot.
-        self.case = case
+    def __init__(self, word, at, first, last, kind):
+        # The word tells the side of the triple: "left" if the block, which is of this kind, stands
+        # ahead of the sum at `at`. Block and sum are the factors from first to last.
+        self.word = word
+        self.at = at
         self.first = first
         self.last = last
-        self.halves = halves
+        self.kind = kind
 
 
-def cuts(ground, parts):
-    """The tuples of two lots, none empty, into which summands can be cut by their places.
-
-    The first summand is in the first lot, as triples hold for the lots in either order.
-    """
-    found = []
-    for number in range(1, 1 << (len(parts) - 1)):
-        there = [(number >> at) & 1 for at in range(len(parts) - 1)]
-        one = parts[:1] + [part for part, moved in zip(parts[1:], there) if not moved]
-        other = [part for part, moved in zip(parts[1:], there) if moved]
-        found.append((flat_sum(ground, one), flat_sum(ground, other)))
-    return found
-
-
-def openings(ground, node):
-    """All openings of a product at its own factors, whether the rule has their triples or not."""
+def places(ground, node):
+    """All places of a product at its own factors, whether the rule has their triples or not."""
     found = []
     if node.word == "product":
         for at, factor in enumerate(node.parts):
             if factor.word == "sum":
-                found.extend(_openings_at(ground, node.parts, at))
+                found.extend(_places_at(ground, node.parts, at))
     return found
 
 
-def _openings_at(ground, factors, at):
+def _places_at(ground, factors, at):
     found = []
-    lots = cuts(ground, factors[at].parts)
     for first in range(at):
-        block = factors[first:at]
-        kind = flat_product(ground, block).kind
-        for one, other in lots:
-            case = ("left", (kind, one.kind, other.kind))
-            found.append(Opening(case, first, at, [block + [one], block + [other]]))
+        kind = row_kind(ground, factors[first:at])
+        found.append(Place("left", at, first, at, kind))
     for last in range(at + 1, len(factors)):
-        block = factors[at + 1:last + 1]
-        kind = flat_product(ground, block).kind
-        for one, other in lots:
-            case = ("right", (one.kind, other.kind, kind))
-            found.append(Opening(case, at, last, [[one] + block, [other] + block]))
+        kind = row_kind(ground, factors[at + 1:last + 1])
+        found.append(Place("right", at, at, last, kind))
     return found
+
+
+def row_kind(ground, factors):
+    """The kind of the product of a row of factors; one alone has its own."""
+    return put_together(ground.products, [factor.kind for factor in factors])
+
+
+def cuts(ground, node):
+    """The unlike lists of two lots, none empty, into which the summands of a sum can be cut by their places.
+
+    The first summand is in the first lot, as triples hold for the lots in either order.
+    """
+    if node.lots is None:
+        node.lots = _cuts_anew(ground, node.parts)
+    return node.lots
+
+
+def _cuts_anew(ground, parts):
+    found = {}
+    for number in range(1, 1 << (len(parts) - 1)):
+        lots = [[parts[0]], []]
+        for at, part in enumerate(parts[1:]):
+            lots[(number >> at) & 1].append(part)
+        one, other = [summands_together(ground, lot) for lot in lots]
+        found[(one.text, other.text)] = [one, other]
+    return list(found.values())
+
+
+def case_of(place, lots):
+    """The word and the kinds by which a sum with these lots would spread at a place."""
+    one, other = lots
+    if place.word == "left":
+        return ("left", (place.kind, one.kind, other.kind))
+    return ("right", (one.kind, other.kind, place.kind))
 
 
 def fits(ground, case):
@@ -70,43 +85,61 @@ def both_cases(case):
     return [case, (word, turned(word, triple))]
 
 
-def spread_at(ground, node, opening):
-    """What a product becomes if it is spread at an opening."""
-    halves = [flat_product(ground, half) for half in opening.halves]
-    total = flat_sum(ground, halves)
-    return flat_product(ground, node.parts[:opening.first] + [total] + node.parts[opening.last + 1:])
+def spread_at(ground, node, place, lots):
+    """What a product becomes if it is spread at a place."""
+    factors = node.parts
+    ahead, behind = factors[place.first:place.at], factors[place.at + 1:place.last + 1]
+    total = flat_sum(ground, [flat_product(ground, ahead + [lot] + behind) for lot in lots])
+    return flat_product(ground, factors[:place.first] + [total] + factors[place.last + 1:])
 
 
 def spread_moves(ground, node):
-    """All spreads of a node, at any depth: tuples of the outcome and the case."""
-    moves = [
-        (spread_at(ground, node, opening), opening.case)
-        for opening in openings(ground, node)
-        if fits(ground, opening.case)
-    ]
+    """All spreads of a node, at any depth: a dictionary from the outcomes to dictionaries of their cases.
+
+    A case is told with its lots in one order.
+    """
+    if node.onward is None:
+        node.onward = _spread_moves_anew(ground, node)
+    return node.onward
+
+
+def _spread_moves_anew(ground, node):
+    moves = {}
+    for place in places(ground, node):
+        for lots in cuts(ground, node.parts[place.at]):
+            case = case_of(place, lots)
+            if fits(ground, case):
+                outcome = spread_at(ground, node, place, lots)
+                moves.setdefault(outcome, {})[case] = True
     for at, part in enumerate(node.parts):
-        for outcome, case in spread_moves(ground, part):
-            moves.append((with_part(ground, node, at, outcome), case))
+        for inner, cases in spread_moves(ground, part).items():
+            outcome = with_part(ground, node, at, inner)
+            there = moves.setdefault(outcome, {})
+            for case in cases:
+                there[case] = True
     return moves
 
 
 def gather_moves(ground, node):
-    """All gatherings of a node, at any depth: the nodes that they make."""
-    made = []
-    if node.word == "sum":
-        made = _gathered_here(ground, node.parts)
-    for at, part in enumerate(node.parts):
-        for outcome in gather_moves(ground, part):
-            made.append(with_part(ground, node, at, outcome))
-    return made
+    """All gatherings of a node, at any depth: the list of the unlike nodes that they make."""
+    if node.backward is None:
+        made = {}
+        if node.word == "sum":
+            for outcome in _gathered_here(ground, node.parts):
+                made[outcome] = True
+        for at, part in enumerate(node.parts):
+            for inner in gather_moves(ground, part):
+                made[with_part(ground, node, at, inner)] = True
+        node.backward = list(made)
+    return node.backward
 
 
 def _gathered_here(ground, summands):
     made = []
     for later, other in enumerate(summands):
         for sooner, one in enumerate(summands[:later]):
-            rest = summands[:sooner] + summands[sooner + 1:later] + summands[later + 1:]
             for gathered in _gathered_pair(ground, one.parts, other.parts):
+                rest = summands[:sooner] + summands[sooner + 1:later] + summands[later + 1:]
                 made.append(flat_sum(ground, rest + [gathered]))
     return made
 
@@ -116,66 +149,128 @@ def _gathered_pair(ground, one, other):
     made = []
     most = min(len(one), len(other)) - 1
     for many in range(1, _many_alike(one, other, most) + 1):
-        block = one[:many]
-        made.extend(_gathered("left", ground, block, [one[many:], other[many:]]))
-    for many in range(1, _many_alike(one[::-1], other[::-1], most) + 1):
-        block = one[len(one) - many:]
-        made.extend(_gathered("right", ground, block, [one[:len(one) - many], other[:len(other) - many]]))
+        made.extend(_gathered(ground, "left", one[:many], [one[many:], other[many:]]))
+    if most > 0 and one[-1] == other[-1]:
+        for many in range(1, _many_alike(one[::-1], other[::-1], most) + 1):
+            rows = [one[:len(one) - many], other[:len(other) - many]]
+            made.extend(_gathered(ground, "right", one[len(one) - many:], rows))
     return made
 
 
 def _many_alike(one, other, most):
     """How many factors, at most so many, two rows have in common from their beginning on."""
     many = 0
-    while many < most and one[many].text == other[many].text:
+    while many < most and one[many] == other[many]:
         many += 1
     return many
 
 
-def _gathered(word, ground, block, rows):
+def _gathered(ground, word, block, rows):
     """The product of a block and two lots in a list, empty if the rule has no triple for it."""
-    kind = flat_product(ground, block).kind
-    one, other = [flat_product(ground, row) for row in rows]
-    total = flat_sum(ground, [one, other])
-    if word == "left":
-        case, factors = (word, (kind, one.kind, other.kind)), block + [total]
-    else:
-        case, factors = (word, (one.kind, other.kind, kind)), [total] + block
-    return [flat_product(ground, factors)] if fits(ground, case) else []
+    kind = row_kind(ground, block)
+    one, other = [row_kind(ground, row) for row in rows]
+    case = (word, (kind, one, other)) if word == "left" else (word, (one, other, kind))
+    if not fits(ground, case):
+        return []
+    total = flat_sum(ground, [flat_product(ground, row) for row in rows])
+    return [flat_product(ground, block + [total] if word == "left" else [total] + block)]
 
 
 def full_nodes(ground, node):
-    """ALL full spreads of a node: a dictionary from their texts."""
-    fulls = {}
-    seen = {node.text: True}
+    """ALL full spreads of a node, in any order."""
+    fulls = []
+    seen = {node: True}
     ahead = [node]
     while ahead:
         there = ahead.pop()
-        outcomes = [outcome for outcome, _ in spread_moves(ground, there)]
+        outcomes = spread_moves(ground, there)
         if not outcomes:
-            fulls[there.text] = there
+            fulls.append(there)
         for outcome in outcomes:
-            if outcome.text not in seen:
-                seen[outcome.text] = True
+            if outcome not in seen:
+                seen[outcome] = True
                 ahead.append(outcome)
     return fulls
 
 
-def led_on(ground, node, known):
-    """A full spread of a node, the first opening that fits being taken each time.
+def fitting_lots(ground, place, summands):
+    """Any two lots of summands that spread at a place, None if there are none.
 
-    What was led on is kept in a dictionary by texts, which may serve for many nodes of one ground.
+    As only the kinds matter, no more is tried than how many summands of each kind are in a lot.
     """
-    if node.word == "thing":
-        return node
-    if node.text not in known:
-        known[node.text] = _led_on_anew(ground, node, known)
-    return known[node.text]
+    kinds = sorted([part.kind for part in summands])
+    key = (place.word, place.kind, tuple(kinds))
+    if key not in ground.fitting:
+        ground.fitting[key] = _fitting_kinds(ground, place, kinds)
+    wanted = ground.fitting[key]
+    if wanted is None:
+        return None
+    missing = list(wanted)
+    lots = [[], []]
+    for part in summands:
+        if part.kind in missing:
+            missing.remove(part.kind)
+            lots[0].append(part)
+        else:
+            lots[1].append(part)
+    return [summands_together(ground, lot) for lot in lots]
 
 
-def _led_on_anew(ground, node, known):
-    whole = flat(ground, node.word, [led_on(ground, part, known) for part in node.parts])
-    fitting = [opening for opening in openings(ground, whole) if fits(ground, opening.case)]
-    if not fitting:
-        return whole
-    return led_on(ground, spread_at(ground, whole, fitting[0]), known)
+def _fitting_kinds(ground, place, kinds):
+    """The kinds of a lot, as few as can be, that fits with the lot of the others; None if there is none."""
+    rows = [[]]
+    for kind in sorted(set(kinds)):
+        often = kinds.count(kind)
+        rows = [row + [kind] * many for row in rows for many in range(often + 1)]
+    for row in sorted(rows, key=len):
+        if row and 2 * len(row) <= len(kinds):
+            rest = list(kinds)
+            for kind in row:
+                rest.remove(kind)
+            one, other = put_together(ground.sums, row), put_together(ground.sums, rest)
+            triple = (place.kind, one, other) if place.word == "left" else (one, other, place.kind)
+            if triple in ground.triples[place.word]:
+                return row
+    return None
+
+
+def spread_here(ground, node):
+    """Any outcome of a spread of a product at its own factors, None if there is none.
+
+    Long blocks come first: then the sums that are made are seldom factors, in which they would grow.
+    """
+    there = places(ground, node)
+    for place in sorted(there, key=lambda each: each.first - each.last):
+        lots = fitting_lots(ground, place, node.parts[place.at].parts)
+        if lots is not None:
+            return spread_at(ground, node, place, lots)
+    return None
+
+
+def first_spread(ground, node):
+    """Any outcome of a spread of a node, at any depth, None if there is none."""
+    outcome = spread_here(ground, node)
+    if outcome is not None:
+        return outcome
+    for at, part in enumerate(node.parts):
+        inner = first_spread(ground, part)
+        if inner is not None:
+            return with_part(ground, node, at, inner)
+    return None
+
+
+def led_on(ground, node):
+    """A full spread of a node: always the same one."""
+    if node.full is None:
+        node.full = _led_on_anew(ground, node)
+    return node.full
+
+
+def _led_on_anew(ground, node):
+    there = node
+    while there.word != "thing":
+        whole = flat(ground, there.word, [led_on(ground, part) for part in there.parts])
+        there = spread_here(ground, whole)
+        if there is None:
+            return whole
+    return there

@@ -1,38 +1,47 @@
 """Nodes: terms that know their texts and kinds, and how they are put together flat.
 
-Terms are looked up by their texts: they nest too deep to be keys themselves.
+A ground has one node for each term that was ever made on it, so that like terms are the same node
+and what was once found out about a term is kept with it.
 """
 
 from kindspreads.kinds import put_together
-from kindspreads.plain import is_word
+from kindspreads.plain import is_one_of, is_word
+
+WORDS = ("sum", "product")
 
 
 class Node:
-    """A thing, a sum or a product, its parts being nodes too."""
+    """A thing, a sum or a product of a ground, its parts being nodes of this ground, too."""
 
-    def __init__(self, word, parts, text, kind):
+    def __init__(self, word, parts, text, kind, term):
         self.word = word
         self.parts = parts
         self.text = text
+        self.factor_text = f"({text})" if word == "sum" else text
         self.kind = kind
+        self.term = term
+        self.size = sum([part.size for part in parts]) if parts else 1
+        # None as long as nobody asked: see moves, and for the last one classes of nodes in ways.
+        self.lots = None
+        self.onward = None
+        self.backward = None
+        self.full = None
+        self.kin = None
 
 
 class Ground:
     """What nodes are made by: the tables and the triples of a rule, and the kinds of things."""
 
     def __init__(self, rule, sorts):
-        self.sums = rule.kinds().plus()
-        self.products = rule.kinds().times()
-        self.triples = {
-            "left": {triple: True for triple in rule.left()},
-            "right": {triple: True for triple in rule.right()},
-        }
+        self.sums = rule.kinds().sum_table
+        self.products = rule.kinds().product_table
+        self.triples = rule.triples
         self.sorts = sorts
-
-
-def thing_node(ground, thing):
-    """The node of a thing."""
-    return Node("thing", [], thing, ground.sorts[thing])
+        self.things = {thing: Node("thing", [], thing, sorts[thing], thing) for thing in sorts}
+        # All sums and products that were made, by their texts: terms nest too deep to be keys themselves.
+        self.known = {}
+        # Lots that fit, by the kinds of summands and blocks: see moves.
+        self.fitting = {}
 
 
 def flat_sum(ground, nodes):
@@ -40,9 +49,7 @@ def flat_sum(ground, nodes):
     parts = _parts_apart("sum", nodes)
     if len(parts) == 1:
         return parts[0]
-    parts = sorted(parts, key=lambda part: part.text)
-    text = " + ".join([part.text for part in parts])
-    return Node("sum", parts, text, put_together(ground.sums, [part.kind for part in parts]))
+    return _sum_node(ground, sorted(parts, key=lambda part: part.text))
 
 
 def flat_product(ground, nodes):
@@ -50,8 +57,7 @@ def flat_product(ground, nodes):
     parts = _parts_apart("product", nodes)
     if len(parts) == 1:
         return parts[0]
-    text = " ".join([f"({part.text})" if part.word == "sum" else part.text for part in parts])
-    return Node("product", parts, text, put_together(ground.products, [part.kind for part in parts]))
+    return _product_node(ground, parts)
 
 
 def flat(ground, word, nodes):
@@ -59,6 +65,13 @@ def flat(ground, word, nodes):
     if word == "sum":
         return flat_sum(ground, nodes)
     return flat_product(ground, nodes)
+
+
+def summands_together(ground, summands):
+    """The sum of some summands of a sum, which stand in their order; one alone is itself."""
+    if len(summands) == 1:
+        return summands[0]
+    return _sum_node(ground, summands)
 
 
 def _parts_apart(word, nodes):
@@ -71,6 +84,25 @@ def _parts_apart(word, nodes):
     return parts
 
 
+def _sum_node(ground, parts):
+    text = " + ".join([part.text for part in parts])
+    if text not in ground.known:
+        ground.known[text] = _new_node("sum", parts, text, ground.sums)
+    return ground.known[text]
+
+
+def _product_node(ground, parts):
+    text = " ".join([part.factor_text for part in parts])
+    if text not in ground.known:
+        ground.known[text] = _new_node("product", parts, text, ground.products)
+    return ground.known[text]
+
+
+def _new_node(word, parts, text, table):
+    kind = put_together(table, [part.kind for part in parts])
+    return Node(word, parts, text, kind, (word, *[part.term for part in parts]))
+
+
 def with_part(ground, node, at, part):
     """A node with another part in the place of one, put together flat."""
     return flat(ground, node.word, node.parts[:at] + [part] + node.parts[at + 1:])
@@ -79,21 +111,37 @@ def with_part(ground, node, at, part):
 def node_of(ground, term):
     """The node of a term whose things have kinds in the ground."""
     if isinstance(term, str):
-        return thing_node(ground, term)
+        return ground.things[term]
     return flat(ground, term[0], [node_of(ground, part) for part in term[1:]])
 
 
-def plain_term(node):
-    """The term of a node."""
-    if node.word == "thing":
-        return node.text
-    return (node.word, *[plain_term(part) for part in node.parts])
+def node_in(ground, value):
+    """The node of any object that is a term of the ground's things, None of any other one."""
+    if isinstance(value, str):
+        return ground.things.get(value)
+    if not isinstance(value, tuple) or len(value) < 3 or not is_one_of(value[0], WORDS):
+        return None
+    parts = []
+    for part in value[1:]:
+        node = node_in(ground, part)
+        if node is None or node.word == value[0]:
+            return None
+        parts.append(node)
+    if value[0] == "product":
+        return _product_node(ground, parts)
+    texts = [part.text for part in parts]
+    return _sum_node(ground, parts) if texts == sorted(texts) else None
 
 
 def by_text(nodes):
-    """The terms of the unlike ones of some nodes, ascending by their texts."""
+    """The unlike ones of some nodes, ascending by their texts."""
     found = {node.text: node for node in nodes}
-    return [plain_term(found[text]) for text in sorted(found)]
+    return [found[text] for text in sorted(found)]
+
+
+def terms_by_text(nodes):
+    """The terms of the unlike ones of some nodes, ascending by their texts."""
+    return [node.term for node in by_text(nodes)]
 
 
 def inner_nodes(node):
@@ -108,28 +156,14 @@ def form_text(value):
     """The text of a term by its form, None of any other object."""
     if is_word(value):
         return value
-    if not isinstance(value, tuple) or len(value) < 3:
+    if not isinstance(value, tuple) or len(value) < 3 or not is_one_of(value[0], WORDS):
         return None
     texts = []
     for part in value[1:]:
         text = form_text(part)
-        if text is None or not _may_stand_in(value[0], part):
+        if text is None or (isinstance(part, tuple) and part[0] == value[0]):
             return None
-        texts.append(f"({text})" if value[0] == "product" and not is_word(part) else text)
+        texts.append(f"({text})" if isinstance(part, tuple) and value[0] == "product" else text)
     if value[0] == "product":
         return " ".join(texts)
     return " + ".join(texts) if texts == sorted(texts) else None
-
-
-def _may_stand_in(word, part):
-    """Whether a term is flat as a part of a sum or a product."""
-    if word == "sum":
-        return is_word(part) or part[0] == "product"
-    return word == "product" and (is_word(part) or part[0] == "sum")
-
-
-def things_within(term):
-    """The things of a term by its form, each as often as it stands."""
-    if isinstance(term, str):
-        return [term]
-    return [thing for part in term[1:] for thing in things_within(part)]

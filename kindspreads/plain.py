@@ -5,9 +5,9 @@ LETTERS = "abcdefghijklmnopqrstuvwxyz"
 
 def is_word(value):
     """Whether any object is a string of one to eight letters from a to z."""
-    if not isinstance(value, str) or len(value) < 1 or len(value) > 8:
+    if not isinstance(value, str) or len(value) > 8:
         return False
-    return all([letter in LETTERS for letter in value])
+    return value.isascii() and value.isalpha() and value.islower()
 
 
 def is_count_below(value, bound):

@@ -1,8 +1,8 @@
 """Rules: for which kinds a product spreads over a sum, from the left and from the right."""
 
 from kindspreads.errors import InvalidMap, InvalidRule, InvalidTriples, InvalidWord, Unlike
-from kindspreads.kinds import can_be_left, can_be_right, need_kinds, opposite, renamed
-from kindspreads.plain import is_map_to_words, is_one_of, is_word
+from kindspreads.kinds import can_be_left, can_be_right, need_kinds, opposite, renamed, spreads_left, spreads_right
+from kindspreads.plain import is_map_to_words, is_one_of
 
 SIDES = ("left", "right")
 
@@ -15,18 +15,16 @@ class Rule:
         need_triples(kinds, "left", left)
         need_triples(kinds, "right", right)
         self._kinds = kinds
-        self._left = list(left)
-        self._right = list(right)
+        # The package looks triples up here, and changes nothing of it.
+        self.triples = {
+            "left": {triple: True for triple in left},
+            "right": {triple: True for triple in right},
+        }
         # What takes long to tell of a rule is kept here: as a rule never changes, it stays true.
         self.reckoned = {}
 
     def __eq__(self, other):
-        return (
-            isinstance(other, Rule)
-            and self._kinds == other._kinds
-            and self._left == other._left
-            and self._right == other._right
-        )
+        return isinstance(other, Rule) and self._kinds == other._kinds and self.triples == other.triples
 
     def kinds(self):
         """The Kinds of the rule."""
@@ -34,11 +32,11 @@ class Rule:
 
     def left(self):
         """The ascending list of its left triples."""
-        return list(self._left)
+        return list(self.triples["left"])
 
     def right(self):
         """The ascending list of its right triples."""
-        return list(self._right)
+        return list(self.triples["right"])
 
 
 def need_rule(value):
@@ -61,16 +59,17 @@ def triples_that_hold(kinds, word):
     return can_be_right(kinds)
 
 
-def is_triple(value):
-    """Whether any object is a tuple of three words."""
-    return isinstance(value, tuple) and len(value) == 3 and all([is_word(kind) for kind in value])
+def is_triple_of(kinds, word, value):
+    """Whether any object is a triple of a side that holds in the tables."""
+    if not isinstance(value, tuple) or len(value) != 3:
+        return False
+    if not all([is_one_of(kind, kinds.kind_words) for kind in value]):
+        return False
+    return spreads_left(kinds, value) if word == "left" else spreads_right(kinds, value)
 
 
 def _are_triples_of(kinds, word, value):
-    if not isinstance(value, list) or not all([is_triple(each) for each in value]):
-        return False
-    known = {triple: True for triple in triples_that_hold(kinds, word)}
-    return all([triple in known for triple in value])
+    return isinstance(value, list) and all([is_triple_of(kinds, word, each) for each in value])
 
 
 def need_triples(kinds, word, value):

@@ -4,10 +4,10 @@ from itertools import combinations
 
 from kindspreads.errors import InvalidCount, InvalidKinds
 from kindspreads.moves import full_nodes, led_on, spread_moves
-from kindspreads.nodes import Ground, by_text, flat_product, flat_sum, plain_term, thing_node
+from kindspreads.nodes import Ground, flat_product, flat_sum, node_in, terms_by_text
 from kindspreads.plain import LETTERS, is_count_below, is_row_of, name_at
 from kindspreads.rules import Rule, both_ways, is_within, need_rule, rule_with, turned
-from kindspreads.terms import Book, ground_of, node_in
+from kindspreads.terms import Book, need_ground
 
 SHAPES = (
     (1, 2), (1, 1, 2), (2, 1), (2, 1, 1), (1, 2, 1),
@@ -32,7 +32,7 @@ def shape_term(rule, number, row):
     if not _is_row_of_shape(rule, number, row):
         raise InvalidKinds(row)
     book = _shape_book(rule, row)
-    return book, plain_term(_shape_node(ground_of(book), number, LETTERS))
+    return book, _shape_node(need_ground(book), number, LETTERS).term
 
 
 def _is_row_of_shape(rule, number, value):
@@ -48,7 +48,7 @@ def _shape_node(ground, number, things):
     factors = []
     at = 0
     for many in SHAPES[number]:
-        factors.append(flat_sum(ground, [thing_node(ground, thing) for thing in things[at:at + many]]))
+        factors.append(flat_sum(ground, [ground.things[thing] for thing in things[at:at + many]]))
         at += many
     return flat_product(ground, factors)
 
@@ -66,7 +66,7 @@ def unsettled(rule):
     if found is None:
         return None
     number, row = found[0], list(found[1])
-    fulls = by_text(list(_fulls_of_shape(_shape_book(rule, row), number).values()))
+    fulls = terms_by_text(_fulls_of_shape(need_ground(_shape_book(rule, row)), number))
     return number, row, fulls[0], fulls[1]
 
 
@@ -78,16 +78,15 @@ def is_unsettled(rule, value):
     number, row, one, other = value
     if not is_count_below(number, len(SHAPES)) or not _is_row_of_shape(rule, number, row):
         return False
-    book = _shape_book(rule, row)
-    nodes = [node_in(ground_of(book), term) for term in (one, other)]
-    if None in nodes or nodes[0].text == nodes[1].text:
+    ground = need_ground(_shape_book(rule, row))
+    nodes = [node_in(ground, term) for term in (one, other)]
+    if None in nodes or nodes[0] == nodes[1]:
         return False
-    fulls = _fulls_of_shape(book, number)
-    return all([node.text in fulls for node in nodes])
+    fulls = _fulls_of_shape(ground, number)
+    return all([node in fulls for node in nodes])
 
 
-def _fulls_of_shape(book, number):
-    ground = ground_of(book)
+def _fulls_of_shape(ground, number):
     return full_nodes(ground, _shape_node(ground, number, LETTERS))
 
 
@@ -103,18 +102,16 @@ def _parting_row_anew(rule):
     # A thing is named by its letter and its kind, so that what was led on serves for all rows.
     ground = Ground(rule, {letter + kind: kind for letter in LETTERS for kind in words})
     for number in range(len(SHAPES)):
-        known = {}
         for row in _rows_of_shape(number, words):
             things = [LETTERS[at] + kind for at, kind in enumerate(row)]
-            if _are_parted(ground, _shape_node(ground, number, things), known):
+            if _are_parted(ground, _shape_node(ground, number, things)):
                 return number, tuple(row)
     return None
 
 
-def _are_parted(ground, node, known):
+def _are_parted(ground, node):
     """Whether single spreads of a node, each led on in one way, end in unlike terms."""
-    moves = spread_moves(ground, node)
-    return len({led_on(ground, outcome, known).text for outcome, _ in moves}) > 1
+    return len({led_on(ground, outcome).text for outcome in spread_moves(ground, node)}) > 1
 
 
 def _rows_of_shape(number, words):

@@ -1,11 +1,15 @@
 """Books of things with their kinds, and terms of things."""
 
 from kindspreads.errors import InvalidBook, InvalidMap, InvalidTerm, InvalidTerms, InvalidText, InvalidThings
-from kindspreads.nodes import Ground, by_text, flat, flat_product, flat_sum, form_text, inner_nodes, node_of
-from kindspreads.nodes import plain_term, thing_node, things_within
+from kindspreads.nodes import Ground, flat, flat_product, flat_sum, form_text, inner_nodes, node_in, node_of
+from kindspreads.nodes import terms_by_text
 from kindspreads.plain import is_map_to_words, is_one_of, is_word
 from kindspreads.reading import term_read
 from kindspreads.rules import mirrored_rule, need_rule
+
+
+# A book forgets what it found out about terms before it would keep more sums and products than this.
+MOST_KEPT = 20000
 
 
 class Book:
@@ -17,6 +21,8 @@ class Book:
             raise InvalidThings(things)
         self._rule = rule
         self._things = {thing: things[thing] for thing in sorted(things)}
+        # The nodes of its terms and what was found out about them: see need_ground.
+        self.ground = None
 
     def __eq__(self, other):
         return isinstance(other, Book) and self._rule == other._rule and self._things == other._things
@@ -31,7 +37,7 @@ class Book:
 
 
 def _are_things(rule, value):
-    kinds = rule.kinds().words()
+    kinds = rule.kinds().kind_words
     if not isinstance(value, dict) or not all([is_word(thing) for thing in value]):
         return False
     told = list(value.values())
@@ -46,18 +52,15 @@ def need_book(value):
         raise InvalidBook(value)
 
 
-def ground_of(book):
-    """What the nodes of a book's terms are made by."""
-    return Ground(book.rule(), book.things())
+def need_ground(book):
+    """What the nodes of a book's terms are made by; an error for what is no book.
 
-
-def node_in(ground, value):
-    """The node of any object that is a term of the ground's things, None of any other one."""
-    if form_text(value) is None:
-        return None
-    if not all([thing in ground.sorts for thing in things_within(value)]):
-        return None
-    return node_of(ground, value)
+    It is asked for once in a call, ahead of all nodes: nodes of two grounds do not go together.
+    """
+    need_book(book)
+    if book.ground is None or len(book.ground.known) > MOST_KEPT:
+        book.ground = Ground(book.rule(), book.things())
+    return book.ground
 
 
 def need_node(ground, value):
@@ -78,16 +81,9 @@ def need_nodes(ground, values):
     return nodes
 
 
-def term_node(book, term):
-    """The node of a term of a book; an error for what is no book, or no term of it."""
-    need_book(book)
-    return need_node(ground_of(book), term)
-
-
 def is_term(book, value):
     """Whether any object is a term of the book."""
-    need_book(book)
-    return node_in(ground_of(book), value) is not None
+    return node_in(need_ground(book), value) is not None
 
 
 def text_of(term):
@@ -108,36 +104,34 @@ def term_of(text):
 
 def parts_of(book, term):
     """The list of the summands, or factors, in their order; a thing has none."""
-    return [plain_term(part) for part in term_node(book, term).parts]
+    return [part.term for part in need_node(need_ground(book), term).parts]
 
 
 def kind_of(book, term):
     """The kind of a term."""
-    return term_node(book, term).kind
+    return need_node(need_ground(book), term).kind
 
 
 def sum_of(book, terms):
     """The sum of terms, put together flat."""
-    need_book(book)
-    ground = ground_of(book)
-    return plain_term(flat_sum(ground, need_nodes(ground, terms)))
+    ground = need_ground(book)
+    return flat_sum(ground, need_nodes(ground, terms)).term
 
 
 def product_of(book, terms):
     """The product of terms in their order, put together flat."""
-    need_book(book)
-    ground = ground_of(book)
-    return plain_term(flat_product(ground, need_nodes(ground, terms)))
+    ground = need_ground(book)
+    return flat_product(ground, need_nodes(ground, terms)).term
 
 
 def inner_terms(book, term):
     """The unlike inner terms, ascending by their texts."""
-    return by_text(list(inner_nodes(term_node(book, term)).values()))
+    return terms_by_text(list(inner_nodes(need_node(need_ground(book), term)).values()))
 
 
 def depth(book, term):
     """How deep the parts of a term are nested: 0 for a thing."""
-    return _depth_below(term_node(book, term))
+    return _depth_below(need_node(need_ground(book), term))
 
 
 def _depth_below(node):
@@ -148,11 +142,11 @@ def _depth_below(node):
 
 def put_in(book, term, sent):
     """The term with things replaced, at once and wherever they stand, by terms of their kinds."""
-    node = term_node(book, term)
-    ground = ground_of(book)
+    ground = need_ground(book)
+    node = need_node(ground, term)
     if not _is_putting_in(ground, sent):
         raise InvalidMap(sent)
-    return plain_term(_node_sent(ground, node, {thing: node_of(ground, sent[thing]) for thing in sent}))
+    return _node_sent(ground, node, {thing: node_of(ground, sent[thing]) for thing in sent}).term
 
 
 def _is_putting_in(ground, value):
@@ -166,7 +160,7 @@ def _is_putting_in(ground, value):
 
 
 def _node_sent(ground, node, nodes):
-    """A node with things replaced by nodes; things that are not told stay."""
+    """A node with its things replaced by nodes of a ground; those that are not told stay."""
     if node.word == "thing":
         return nodes.get(node.text, node)
     return flat(ground, node.word, [_node_sent(ground, part, nodes) for part in node.parts])
@@ -180,11 +174,12 @@ def mirrored_book(book):
 
 def mirrored_term(book, term):
     """The term of the mirrored book whose factors, through and through, are turned about."""
-    node = term_node(book, term)
-    return plain_term(_node_mirrored(ground_of(mirrored_book(book)), node))
+    ground = need_ground(book)
+    return _node_mirrored(ground, need_node(ground, term)).term
 
 
 def _node_mirrored(ground, node):
+    # The kinds are those of the book and not of the mirrored one, but the term has none.
     if node.word == "thing":
         return node
     parts = [_node_mirrored(ground, part) for part in node.parts]
@@ -202,10 +197,10 @@ def with_things(book, sent):
 
 def term_sent(book, term, sent):
     """The term with its things sent by a dictionary from just the book's things to unlike words."""
-    node = term_node(book, term)
+    node = need_node(need_ground(book), term)
     _need_names(book, sent)
-    ground = ground_of(with_things(book, sent))
-    return plain_term(_node_sent(ground, node, {thing: thing_node(ground, sent[thing]) for thing in sent}))
+    ground = need_ground(with_things(book, sent))
+    return _node_sent(ground, node, {thing: ground.things[sent[thing]] for thing in sent}).term
 
 
 def _need_names(book, sent):

@@ -1,7 +1,7 @@
 """Words of terms: rows of things, as if a term were spread wholly, whatever the rule."""
 
-from kindspreads.nodes import flat_product, flat_sum, plain_term, thing_node
-from kindspreads.terms import ground_of, need_node, need_book, term_node
+from kindspreads.nodes import flat_product, flat_sum
+from kindspreads.terms import need_ground, need_node
 
 MOST_WORDS = 6
 MOST_WORD_THINGS = 12
@@ -9,7 +9,7 @@ MOST_WORD_THINGS = 12
 
 def words_of(book, term):
     """The ascending list of the words of a term, each as often as it comes."""
-    return node_words(term_node(book, term))
+    return node_words(need_node(need_ground(book), term))
 
 
 def node_words(node):
@@ -31,12 +31,12 @@ def _words_within(node):
 
 def many_words(book, term):
     """How many words a term has."""
-    return words_and_things(term_node(book, term))[0]
+    return words_and_things(need_node(need_ground(book), term))[0]
 
 
 def word_things(book, term):
     """How many things the words of a term have together, each as often as it stands."""
-    return words_and_things(term_node(book, term))[1]
+    return words_and_things(need_node(need_ground(book), term))[1]
 
 
 def words_and_things(node):
@@ -60,8 +60,7 @@ def have_like_words(book, one, other):
 
 def parting_word(book, one, other):
     """The least word that comes unlike often in two terms, None if there is none."""
-    need_book(book)
-    ground = ground_of(book)
+    ground = need_ground(book)
     some = _tally(_words_within(need_node(ground, one)))
     others = _tally(_words_within(need_node(ground, other)))
     unlike = [word for word in some if some[word] != others.get(word, 0)]
@@ -78,22 +77,23 @@ def _tally(words):
 
 def whole_of(book, term):
     """The sum of the products of the words of a term: the term spread wholly."""
-    node = term_node(book, term)
-    return plain_term(_whole_node(ground_of(book), node))
+    ground = need_ground(book)
+    return _whole_node(ground, need_node(ground, term)).term
 
 
 def is_whole(book, term):
     """Whether a term is spread wholly."""
-    node = term_node(book, term)
-    return _whole_node(ground_of(book), node).text == node.text
+    ground = need_ground(book)
+    node = need_node(ground, term)
+    return _whole_node(ground, node) == node
 
 
 def _whole_node(ground, node):
-    rows = [[thing_node(ground, thing) for thing in word] for word in _words_within(node)]
+    rows = [[ground.things[thing] for thing in word] for word in _words_within(node)]
     return flat_sum(ground, [flat_product(ground, row) for row in rows])
 
 
 def is_small(book, term):
     """Whether a term has at most six words with twelve things together."""
-    words, things = words_and_things(term_node(book, term))
+    words, things = words_and_things(need_node(need_ground(book), term))
     return words <= MOST_WORDS and things <= MOST_WORD_THINGS

@@ -22,7 +22,7 @@ SPECIAL = {"__init__", "__eq__", "__repr__", "__str__", "__len__", "__enter__", 
 METHODS = set(
     "append clear copy count endswith extend find get index insert isalnum isalpha isdigit islower isspace isupper "
     "items join keys ljust lower lstrip partition pop remove replace reverse rfind rjust rpartition rsplit rstrip "
-    "setdefault split splitlines startswith strip update upper values zfill bit_length".split()
+    "setdefault split splitlines startswith strip update upper values zfill bit_length isascii".split()
 )
 BARRED = re.compile(
     r"\b(type|typing|enum|Enum|Generic|Protocol|ABC|namedtuple|NamedTuple|TypedDict|register|mro|elements|open|input"

@@ -1,0 +1,85 @@
+"""Tables from ALL tuples of two words to one of them, as rows of numbers, which are looked through fast."""
+
+from kindspreads.plain import is_word
+
+
+class Rows:
+    """The words of a table, ascending, and for each word the row of the places of what it makes with each."""
+
+    def __init__(self, words, rows):
+        self.words = words
+        self.rows = rows
+
+
+def table_rows(value):
+    """The rows of any object that is a table from ALL tuples of two of some words to these, None of any other one."""
+    if not isinstance(value, dict) or not value:
+        return None
+    places = {}
+    for key in value:
+        if not isinstance(key, tuple) or len(key) != 2:
+            return None
+        places[key[0]] = 0
+    # With as many keys as there are tuples of two first words, and ALL of these among them, there are no others.
+    if len(value) != len(places) ** 2 or not all([is_word(word) for word in places]):
+        return None
+    if not all([isinstance(made, str) for made in value.values()]):
+        return None
+    words = sorted(places)
+    for place, word in enumerate(words):
+        places[word] = place
+    rows = [[places.get(value.get((first, second))) for second in words] for first in words]
+    if any([None in row for row in rows]):
+        return None
+    return Rows(words, rows)
+
+
+def brackets_are_free(rows):
+    """Whether three put together make one however they are bracketed.
+
+    Where x (b y) is (x b) y for ALL x and y, b may be called a good middle; what two good ones make is one, too.
+    So only those are looked at that are not made by the ones ahead of them.
+    """
+    good = [False for _ in rows]
+    for middle in range(len(rows)):
+        if not good[middle]:
+            if not _is_good_middle(rows, middle):
+                return False
+            _add_good(rows, good, middle)
+    return True
+
+
+def _is_good_middle(rows, middle):
+    behind = rows[middle]
+    for row in rows:
+        if rows[row[middle]] != [row[place] for place in behind]:
+            return False
+    return True
+
+
+def _add_good(rows, good, first):
+    """Mark one as good, and all that the good ones make of one another."""
+    good[first] = True
+    ahead = [first]
+    while ahead:
+        there = ahead.pop()
+        for other in [place for place, marked in enumerate(good) if marked]:
+            for made in (rows[there][other], rows[other][there]):
+                if not good[made]:
+                    good[made] = True
+                    ahead.append(made)
+
+
+def order_is_free(rows):
+    """Whether two make the same in either order."""
+    return all([row == [other[place] for other in rows] for place, row in enumerate(rows)])
+
+
+def table_of(rows):
+    """The table of rows, its keys ascending."""
+    words = rows.words
+    return {
+        (first, second): words[made]
+        for first, row in zip(words, rows.rows)
+        for second, made in zip(words, row)
+    }

@@ -13,12 +13,12 @@ class Kinds:
         if sums is None:
             raise InvalidTable(plus)
         products = times_rows(times)
-        if products is None or products.words != sums.words:
+        if products is None or products.names != sums.names:
             raise InvalidTable(times)
         # The package reads these three, and changes none of them.
-        self.sum_table = table_of(sums)
-        self.product_table = table_of(products)
-        self.kind_words = sums.words
+        self.sum_table = table_of(sums.names, sums.rows)
+        self.product_table = table_of(products.names, products.rows)
+        self.kind_words = sums.names
 
     def __eq__(self, other):
         return (

@@ -152,6 +152,13 @@ def inner_nodes(node):
     return found
 
 
+def things_of(node):
+    """The things of a node, each as often as it stands."""
+    if node.word == "thing":
+        return [node.text]
+    return [thing for part in node.parts for thing in things_of(part)]
+
+
 def form_text(value):
     """The text of a term by its form, None of any other object."""
     if is_word(value):

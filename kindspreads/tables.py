@@ -6,8 +6,8 @@ from kindspreads.plain import is_word
 class Rows:
     """The words of a table, ascending, and for each word the row of the places of what it makes with each."""
 
-    def __init__(self, words, rows):
-        self.words = words
+    def __init__(self, names, rows):
+        self.names = names
         self.rows = rows
 
 
@@ -75,11 +75,10 @@ def order_is_free(rows):
     return all([row == [other[place] for other in rows] for place, row in enumerate(rows)])
 
 
-def table_of(rows):
-    """The table of rows, its keys ascending."""
-    words = rows.words
+def table_of(words, rows):
+    """The table of words whose rows of places these are, its keys ascending."""
     return {
         (first, second): words[made]
-        for first, row in zip(words, rows.rows)
+        for first, row in zip(words, rows)
         for second, made in zip(words, row)
     }

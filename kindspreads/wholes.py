@@ -95,5 +95,10 @@ def _whole_node(ground, node):
 
 def is_small(book, term):
     """Whether a term has at most six words with twelve things together."""
-    words, things = words_and_things(need_node(need_ground(book), term))
+    return is_small_node(need_node(need_ground(book), term))
+
+
+def is_small_node(node):
+    """Whether a node has at most six words with twelve things together."""
+    words, things = words_and_things(node)
     return words <= MOST_WORDS and things <= MOST_WORD_THINGS

@@ -149,3 +149,44 @@ def rows_of(every, many, bar):
         for each in every[first] if not bar(each)
         for row in rows_of(every, many - first, bar)
     ]
+
+
+def way_lengths(book, term):
+    """The numbers of spreads of ALL ways from a term to full spreads."""
+    found, ahead, steps = set(), {term}, 0
+    while ahead:
+        further = set()
+        for each in ahead:
+            after = outcomes(book, each)
+            found |= set() if after else {steps}
+            further |= set(after)
+        ahead, steps = further, steps + 1
+    return sorted(found)
+
+
+def classes(book, terms):
+    """The classes of terms among which are all their kin: a dictionary from each term to its class, ascending."""
+    heads = {term: [term] for term in terms}
+    for term in terms:
+        for made in outcomes(book, term):
+            if heads[term] is not heads[made]:
+                heads[term].extend(heads[made])
+                for each in heads[made]:
+                    heads[each] = heads[term]
+    for row in {id(row): row for row in heads.values()}.values():
+        row.sort(key=text)
+    return heads
+
+
+def few_terms(names, most):
+    """All terms whose words have at most so many things together: all kin of such terms are among them."""
+    every = [term for terms in all_terms(names, most).values() for term in terms]
+    return [term for term in every if sum(len(word) for word in words(term)) <= most]
+
+
+def factor_sums(term):
+    """How many sums are factors of products in a term."""
+    if isinstance(term, str):
+        return 0
+    own = sum(1 for part in term[1:] if is_product(term) and is_sum(part))
+    return own + sum(factor_sums(part) for part in term[1:])

@@ -9,6 +9,8 @@ CLASSES = {
                                        "multiply": "first second", "__eq__": "other"})},
     "rules": {"Rule": ("kinds left right", {"kinds": "", "left": "", "right": "", "__eq__": "other"})},
     "terms": {"Book": ("rule things", {"rule": "", "things": "", "__eq__": "other"})},
+    "valued": {"World": ("plus times kinds holding", {"plus": "", "times": "", "kinds": "", "holding": "", "words": "",
+                                                      "__eq__": "other"})},
 }
 FUNCTIONS = {
     "kinds": {
@@ -40,6 +42,23 @@ FUNCTIONS = {
     "shapes": {
         "shapes": "", "shape_term": "rule number row", "is_settled": "rule", "unsettled": "rule",
         "is_unsettled": "rule value", "settled_within": "rule", "are_settled_beside": "rule left right",
+    },
+    "fulls": {
+        "is_full": "book term", "full_spreads": "book term", "full_spread": "book term", "copied_things": "book term",
+        "spreading": "book term", "is_spreading": "book term value", "fewest_spreads": "book term",
+        "most_spreads": "book term", "shortest_spreading": "book term", "is_shortest_spreading": "book term value",
+        "kept_sums": "book term", "summands_kept": "book term",
+    },
+    "kin": {
+        "are_kin": "book one other", "chain": "book one other", "is_chain": "book one other value",
+        "is_closed": "book value", "apart_paper": "book one other", "is_apart_paper": "book one other value",
+        "beside": "book term", "is_alone": "book term", "kin_by": "book rule one other",
+    },
+    "valued": {
+        "parting_values": "world word triple", "are_parting_values": "world word triple value", "fits": "world rule",
+        "rule_of": "world", "are_inputs": "world book value", "value_of": "world book inputs term",
+        "same_always": "world book one other", "parting_inputs": "world book one other",
+        "are_parting_inputs": "world book one other value", "alike_terms": "world book terms", "mirrored_world": "world",
     },
 }
 

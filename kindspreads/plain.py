@@ -10,11 +10,14 @@ def is_word(value):
     return value.isascii() and value.isalpha() and value.islower()
 
 
+def is_count(value):
+    """Whether any object is a whole number of at least 0; True and False are none."""
+    return isinstance(value, int) and not isinstance(value, bool) and value >= 0
+
+
 def is_count_below(value, bound):
-    """Whether any object is a count below a bound; True and False are none."""
-    if not isinstance(value, int) or isinstance(value, bool):
-        return False
-    return 0 <= value < bound
+    """Whether any object is a count below a bound."""
+    return is_count(value) and value < bound
 
 
 def is_one_of(value, words):

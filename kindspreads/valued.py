@@ -5,7 +5,7 @@ from kindspreads.errors import InvalidWorld, Unlike
 from kindspreads.kinds import can_be_left, can_be_right, need_kinds, opposite, plus_rows, times_rows
 from kindspreads.nodes import things_of
 from kindspreads.plain import is_one_of, is_row_of
-from kindspreads.rules import SIDES, Rule, is_triple_of, need_rule
+from kindspreads.rules import SIDES, Rule, is_triple_of, need_rule, turned
 from kindspreads.tables import table_of
 from kindspreads.terms import need_book, need_ground, need_node
 from kindspreads.walks import listed_nodes
@@ -162,7 +162,12 @@ def fits(world, rule):
     need_rule(rule)
     if rule.kinds() != world.kinds():
         raise Unlike(rule)
-    told = [(word, triple) for word in SIDES for triple in rule.triples[word]]
+    return fits_rule(world, rule)
+
+
+def fits_rule(world, rule):
+    """Whether all triples of a rule of the world's Kinds spread in it."""
+    told = [(word, triple) for word in SIDES for triple in rule.triples[word] if triple <= turned(word, triple)]
     return all([_parting_places(world, word, triple) is None for word, triple in told])
 
 
@@ -179,8 +184,8 @@ def mirrored_world(world):
     """The world with times turned about, over the Kinds with times turned about."""
     need_world(world)
     times = world.times()
-    turned_about = {(first, second): times[(second, first)] for first, second in times}
-    return World(world.plus(), turned_about, opposite(world.kinds()), world.holding())
+    mirrored = {(first, second): times[(second, first)] for first, second in times}
+    return World(world.plus(), mirrored, opposite(world.kinds()), world.holding())
 
 
 def need_world_and_ground(world, book):
@@ -194,10 +199,11 @@ def need_world_and_ground(world, book):
 
 def are_inputs(world, book, value):
     """Whether any object is a dictionary from just the things of a book to values of their kinds."""
-    return _are_inputs_of(world, need_world_and_ground(world, book), value)
+    return are_inputs_of(world, need_world_and_ground(world, book), value)
 
 
-def _are_inputs_of(world, ground, value):
+def are_inputs_of(world, ground, value):
+    """Whether any object is a dictionary from just the things of a ground to values of their kinds."""
     if not isinstance(value, dict) or len(value) != len(ground.sorts):
         return False
     held = world.held_words
@@ -207,10 +213,15 @@ def _are_inputs_of(world, ground, value):
 def value_of(world, book, inputs, term):
     """The value that a term has by inputs."""
     ground = need_world_and_ground(world, book)
-    if not _are_inputs_of(world, ground, inputs):
+    if not are_inputs_of(world, ground, inputs):
         raise InvalidInputs(inputs)
-    node = need_node(ground, term)
-    return world.value_words[_place_of_node(world, node, {thing: world.place_of[inputs[thing]] for thing in inputs})]
+    return value_by(world, inputs, need_node(ground, term))
+
+
+def value_by(world, inputs, node):
+    """The value that a node has by inputs."""
+    places = {thing: world.place_of[value] for thing, value in inputs.items()}
+    return world.value_words[_place_of_node(world, node, places)]
 
 
 def _place_of_node(world, node, places):
@@ -259,10 +270,9 @@ def are_parting_inputs(world, book, one, other, value):
     """Whether any object is inputs for which two terms have unlike values."""
     ground = need_world_and_ground(world, book)
     nodes = [need_node(ground, term) for term in (one, other)]
-    if not _are_inputs_of(world, ground, value):
+    if not are_inputs_of(world, ground, value):
         return False
-    places = {thing: world.place_of[value[thing]] for thing in value}
-    return _place_of_node(world, nodes[0], places) != _place_of_node(world, nodes[1], places)
+    return value_by(world, value, nodes[0]) != value_by(world, value, nodes[1])
 
 
 def alike_terms(world, book, terms):

@@ -93,3 +93,8 @@ def way_through_full(ground, one, other):
     places = {node: at for at, node in enumerate(behind)}
     meeting = [node for node in ahead if node in places][0]
     return ahead[:ahead.index(meeting)] + behind[:places[meeting] + 1][::-1]
+
+
+def tally(numbers):
+    """The dictionary from some numbers, ascending, to how often each is there."""
+    return {number: numbers.count(number) for number in sorted(set(numbers))}

@@ -54,6 +54,27 @@ FUNCTIONS = {
         "is_closed": "book value", "apart_paper": "book one other", "is_apart_paper": "book one other value",
         "beside": "book term", "is_alone": "book term", "kin_by": "book rule one other",
     },
+    "worlds": {
+        "coming": "book term", "world_of": "book term", "told_value": "book term", "telling_world": "book one other",
+        "is_telling_world": "book one other value", "world_size": "book term",
+    },
+    "justrule": {
+        "own_tuples": "rule", "own_size": "rule", "own_world": "rule", "triple_terms": "book word triple",
+        "own_inputs": "book",
+    },
+    "classes": {
+        "class_of": "book term", "class_size": "book term", "by_things": "book term", "class_at": "book term number",
+        "class_place": "book one other", "fewest_steps": "book one other", "shortest_chain": "book one other",
+        "is_shortest_chain": "book one other value", "farthest": "book term", "fewest_things": "book term",
+        "parted": "book term rule", "linking": "book one other",
+    },
+    "prices": {
+        "times_signs": "book term", "plus_signs": "book term", "price": "book prices term",
+        "least_price": "book prices term", "cheapest": "book prices term", "is_cheapest": "book prices term value",
+        "many_by_price": "book prices term", "way_to_cheapest": "book prices term",
+        "is_way_to_cheapest": "book prices term value", "fewest_times": "book term", "fewest_signed": "book term",
+        "is_fewest_signed": "book term value", "many_by_signs": "book term",
+    },
     "valued": {
         "parting_values": "world word triple", "are_parting_values": "world word triple value", "fits": "world rule",
         "rule_of": "world", "are_inputs": "world book value", "value_of": "world book inputs term",

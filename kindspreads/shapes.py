@@ -7,6 +7,7 @@ from kindspreads.moves import full_nodes, led_on, spread_moves
 from kindspreads.nodes import Ground, flat_product, flat_sum, node_in, terms_by_text
 from kindspreads.plain import LETTERS, is_count_below, is_row_of, name_at
 from kindspreads.rules import Rule, both_ways, is_within, need_rule, rule_with, turned
+from kindspreads.settling import doubtful_rows
 from kindspreads.terms import Book, need_ground
 
 SHAPES = (
@@ -17,6 +18,8 @@ SHAPES = (
     (1, 2, 1, 2), (1, 2, 2, 1), (2, 1, 2, 1), (1, 2, 1, 2, 1),
     (1, 1, 2, 2), (1, 1, 2, 1, 2), (2, 2, 1, 1), (2, 1, 2, 1, 1), (2, 1, 1, 2), (2, 1, 1, 1, 2),
 )
+
+MOST_THINGS = 7
 
 
 def shapes():
@@ -66,7 +69,8 @@ def unsettled(rule):
     if found is None:
         return None
     number, row = found[0], list(found[1])
-    fulls = terms_by_text(_fulls_of_shape(need_ground(_shape_book(rule, row)), number))
+    ground = need_ground(_shape_book(rule, row))
+    fulls = terms_by_text(_ends_of_spreads(ground, _shape_node(ground, number, LETTERS)))
     return number, row, fulls[0], fulls[1]
 
 
@@ -98,35 +102,27 @@ def _parting_row(rule):
 
 
 def _parting_row_anew(rule):
-    words = rule.kinds().words()
-    # A thing is named by its letter and its kind, so that what was led on serves for all rows.
-    ground = Ground(rule, {letter + kind: kind for letter in LETTERS for kind in words})
-    for number in range(len(SHAPES)):
-        for row in _rows_of_shape(number, words):
+    rows = doubtful_rows(rule)
+    if rows:
+        # A thing is named by its letter and its kind, so that what was led on serves for all rows.
+        words = rule.kinds().kind_words
+        ground = Ground(rule, {letter + kind: kind for letter in LETTERS[:MOST_THINGS] for kind in words})
+        for shape, row in rows:
+            number = SHAPES.index(shape)
             things = [LETTERS[at] + kind for at, kind in enumerate(row)]
             if _are_parted(ground, _shape_node(ground, number, things)):
-                return number, tuple(row)
+                return number, row
     return None
 
 
 def _are_parted(ground, node):
     """Whether single spreads of a node, each led on in one way, end in unlike terms."""
-    return len({led_on(ground, outcome).text for outcome in spread_moves(ground, node)}) > 1
+    return len({end.text for end in _ends_of_spreads(ground, node)}) > 1
 
 
-def _rows_of_shape(number, words):
-    """The rows of kinds for a shape, those of each sum ascending: its things may be exchanged."""
-    rows = [[]]
-    for many in SHAPES[number]:
-        rows = [row + lot for row in rows for lot in _ascending_rows(many, words)]
-    return rows
-
-
-def _ascending_rows(many, words):
-    rows = [[]]
-    for _ in range(many):
-        rows = [row + [word] for row in rows for word in words if not row or row[-1] <= word]
-    return rows
+def _ends_of_spreads(ground, node):
+    """What single spreads of a node, each led on in one way, end in."""
+    return [led_on(ground, outcome) for outcome in spread_moves(ground, node)]
 
 
 def settled_within(rule):

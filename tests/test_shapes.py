@@ -1,9 +1,11 @@
 """[34] to [39]: shapes and what is settled, and [1] to [3] as far as they speak of them."""
 
+import time
 import unittest
 from itertools import combinations
 
 from kindspreads.errors import InvalidCount, InvalidKinds, InvalidRule, InvalidTriples
+from kindspreads.fulls import is_full
 from kindspreads.kinds import Kinds, can_be_left, can_be_right, opposite
 from kindspreads.rules import Rule, both_ways, is_within, mirrored_rule, renamed_rule, rule_with, turned, union_rule
 from kindspreads.rules import whole_rule
@@ -11,6 +13,7 @@ from kindspreads.shapes import are_settled_beside, is_settled, is_unsettled, set
 from kindspreads.spreads import spreads
 from kindspreads.terms import Book, kind_of, term_of, text_of
 from tests import naive
+from tests.settled_rules import SETTLED_RULES
 from tests.helper import PPP, check_errors, odd_objects, one_kind, rows_over, stop_kinds, stop_rule, table, three_kinds
 from tests.test_rules import OUT_OF_FORM_LEFT, OUT_OF_FORM_RIGHT
 
@@ -206,6 +209,59 @@ class SettledTest(unittest.TestCase):
         rule = nought_rule()
         self.assertEqual([is_settled(rule), is_settled(rule), rule == nought_rule()], [False, False, True])
         self.assertEqual(rule.left(), nought_rule().left())
+
+
+def rules_told():
+    """Tuples of a rule and whether it is settled, of those of settled_rules, some of them mirrored or renamed."""
+    for words, plus, times, left, right, settled in SETTLED_RULES:
+        pairs = [(one, other) for one in words for other in words]
+        kinds = Kinds(dict(zip(pairs, plus)), dict(zip(pairs, times)))
+        rule = Rule(kinds, [tuple(each) for each in left.split()], [tuple(each) for each in right.split()])
+        yield rule, settled
+        yield mirrored_rule(rule), settled
+        yield renamed_rule(rule, dict(zip(words, "zyx"))), settled
+
+
+class FirstQuestionTest(unittest.TestCase):
+    def test_answers_stay_as_all_rows_of_all_shapes_tell_them(self):
+        for rule, settled in rules_told():
+            self.assertIs(is_settled(rule), settled, (rule.left(), rule.right()))
+            found = unsettled(Rule(rule.kinds(), rule.left(), rule.right()))
+            self.assertIs(found is None, settled)
+            if found is not None:
+                self.assertIs(is_unsettled(rule, found), True)
+                book, term = shape_term(rule, found[0], found[1])
+                self.assertEqual([is_full(book, full) for full in found[2:]], [True, True])
+
+    def test_rules_of_other_tables_or_triples_are_told_apart(self):
+        told = list(rules_told())
+        for rule, settled in told + told[::-1]:
+            self.assertIs(is_settled(Rule(rule.kinds(), rule.left(), rule.right())), settled)
+            self.assertIs(is_settled(Rule(rule.kinds(), [], [])), True)
+
+    def test_many_fresh_rules_in_fair_time(self):
+        # Some tenths of a thousandth of a second each; the bound lets each take fifty of them.
+        least = table("xy", lambda x, y: "x" if x == y == "x" else "y")
+        first = table("xy", lambda x, y: x)
+        asked = 0
+        begun = time.process_time()
+        for times in (least, first):
+            for names in ("ab", "ba", "xy", "yx"):
+                rule = renamed_rule(whole_rule(Kinds(least, times)), dict(zip("xy", names)))
+                for each in (rule, mirrored_rule(rule), Rule(rule.kinds(), rule.left(), rule.right())):
+                    self.assertIs(is_settled(each), True)
+                    self.assertIs(unsettled(Rule(each.kinds(), each.left(), each.right())), None)
+                    asked += 2
+        for each in (eight_settled(), eight_unsettled(), mirrored_rule(eight_settled()), nought_rule()):
+            is_settled(each)
+            unsettled(Rule(each.kinds(), each.left(), each.right()))
+            asked += 2
+        for words in ("ab", "yx"):
+            sides = Kinds(table(words, lambda x, y: words[0]), table(words, max))
+            left, right = [triple for triple in can_be_left(sides) if triple[1] == triple[2]], can_be_right(sides)
+            settled_within(Rule(sides, left, [triple for triple in right if triple[0] == triple[1]][:2]))
+            asked += 8
+        self.assertLess(time.process_time() - begun, asked * 0.02)
 
 
 class UnsettledTest(unittest.TestCase):

@@ -2,9 +2,10 @@
 
 from kindspreads.errors import Apart, InvalidCount, InvalidRule, Refused, Unlike
 from kindspreads.kin import are_kin, are_kin_nodes
+from kindspreads.kinds import triples_holding
 from kindspreads.nodes import node_of
 from kindspreads.plain import is_count_below
-from kindspreads.rules import SIDES, Rule, is_within, rule_with, triples_that_hold, turned, with_turned
+from kindspreads.rules import SIDES, Rule, is_within, rule_with, turned, with_turned
 from kindspreads.terms import Book, need_ground, need_node
 from kindspreads.walks import is_way, kin_nodes, listed_nodes, steps_before, tally, way_back
 from kindspreads.wholes import node_words
@@ -12,7 +13,7 @@ from kindspreads.wholes import node_words
 
 def class_of(book, term):
     """The list of ALL kin of a term, itself among them, ascending by their texts."""
-    return [node.term for node in _kin_of(book, term)]
+    return [node.term() for node in _kin_of(book, term)]
 
 
 def _kin_of(book, term):
@@ -27,7 +28,7 @@ def class_size(book, term):
 
 def by_things(book, term):
     """The dictionary from the numbers of things that kin have, ascending, to how many have so many."""
-    return tally([node.size for node in _kin_of(book, term)])
+    return tally([node.size() for node in _kin_of(book, term)])
 
 
 def class_at(book, term, number):
@@ -35,7 +36,7 @@ def class_at(book, term, number):
     kin = _kin_of(book, term)
     if not is_count_below(number, len(kin)):
         raise InvalidCount(number)
-    return kin[number].term
+    return kin[number].term()
 
 
 def class_place(book, one, other):
@@ -66,7 +67,7 @@ def shortest_chain(book, one, other):
     way = _shortest_way(ground, nodes)
     if way is None:
         return None
-    return [node.term for node in way]
+    return [node.term() for node in way]
 
 
 def _shortest_way(ground, nodes):
@@ -96,8 +97,8 @@ def farthest(book, term):
 def fewest_things(book, term):
     """The list of the kin with as few things as any kin has, ascending by their texts."""
     kin = _kin_of(book, term)
-    fewest = min([node.size for node in kin])
-    return [node.term for node in kin if node.size == fewest]
+    fewest = min([node.size() for node in kin])
+    return [node.term() for node in kin if node.size() == fewest]
 
 
 def parted(book, term, rule):
@@ -108,8 +109,8 @@ def parted(book, term, rule):
     if rule.kinds() != book.rule().kinds() or not is_within(rule, book.rule()):
         raise Unlike(rule)
     ground = need_ground(Book(rule, book.things()))
-    firsts = {kin_nodes(ground, node_of(ground, node.term))[0]: True for node in kin}
-    return [[node.term for node in kin_nodes(ground, first)] for first in firsts]
+    firsts = {kin_nodes(ground, node_of(ground, node.term()))[0]: True for node in kin}
+    return [[node.term() for node in kin_nodes(ground, first)] for first in firsts]
 
 
 def linking(book, one, other):
@@ -124,7 +125,7 @@ def linking(book, one, other):
     cases = [
         (side, triple)
         for side in SIDES
-        for triple in triples_that_hold(rule.kinds(), side)
+        for triple in triples_holding(rule.kinds(), side)
         if triple not in rule.triples[side] and triple <= turned(side, triple)
     ]
     return [case for case in cases if are_kin(Book(_rule_with_case(rule, case), book.things()), one, other)]

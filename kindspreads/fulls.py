@@ -22,13 +22,13 @@ def full_spreads(book, term):
 
 def full_spread(book, term):
     """The full spread of a term of a book whose rule is settled."""
-    return _settled_nodes(book, term)[1].term
+    return _settled_nodes(book, term)[1].term()
 
 
 def copied_things(book, term):
     """How many things the full spread has more than the term."""
     node, full = _settled_nodes(book, term)
-    return full.size - node.size
+    return full.size() - node.size()
 
 
 def _settled_nodes(book, term):
@@ -43,7 +43,7 @@ def _settled_nodes(book, term):
 def spreading(book, term):
     """Any list of terms from a term to a full spread, each but the first an outcome of the one ahead."""
     ground = need_ground(book)
-    return [node.term for node in spreading_nodes(ground, need_node(ground, term))]
+    return [node.term() for node in spreading_nodes(ground, need_node(ground, term))]
 
 
 def is_spreading(book, term, value):
@@ -82,7 +82,7 @@ def _longest(ground, node, known):
 def shortest_spreading(book, term):
     """Any list from a small term to a full spread with as few spreads as can be."""
     ground = need_ground(book)
-    return [node.term for node in _shortest_way(ground, need_node(ground, term))]
+    return [node.term() for node in _shortest_way(ground, need_node(ground, term))]
 
 
 def is_shortest_spreading(book, term, value):

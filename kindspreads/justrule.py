@@ -1,9 +1,10 @@
 """A world of just the rule: one in which its own triples spread, and no others."""
 
 from kindspreads.errors import InvalidTriples, InvalidWord
+from kindspreads.kinds import triples_holding
 from kindspreads.nodes import flat_product, flat_sum
 from kindspreads.plain import is_one_of, name_at
-from kindspreads.rules import SIDES, is_triple_of, need_rule, triples_that_hold, turned
+from kindspreads.rules import SIDES, is_triple_of, need_rule, turned
 from kindspreads.terms import need_ground
 from kindspreads.valued import World
 
@@ -21,7 +22,7 @@ def own_tuples(rule):
 
 def _triples_lacking(rule, side):
     """The triples of a side that could be in a rule and are not, of each two that are turned about the first one."""
-    could_be = triples_that_hold(rule.kinds(), side)
+    could_be = triples_holding(rule.kinds(), side)
     return [triple for triple in could_be if triple not in rule.triples[side] and triple <= turned(side, triple)]
 
 
@@ -96,7 +97,7 @@ def triple_terms(book, word, triple):
         pairs = [[first, third], [second, third]]
         gathered = flat_product(ground, [flat_sum(ground, [first, second]), third])
     spread = flat_sum(ground, [flat_product(ground, pair) for pair in pairs])
-    return gathered.term, spread.term
+    return gathered.term(), spread.term()
 
 
 def _first_thing(ground, kind):

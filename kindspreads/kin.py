@@ -47,7 +47,7 @@ def chain(book, one, other):
         way = way_through_full(ground, nodes[0], nodes[1])
     else:
         way = way_back(steps_before(ground, nodes[0]), nodes[1])
-    return [node.term for node in way]
+    return [node.term() for node in way]
 
 
 def is_chain(book, one, other, value):
@@ -80,7 +80,7 @@ def apart_paper(book, one, other):
     ground, nodes = _two_nodes(book, one, other)
     if are_kin_nodes(book, ground, nodes[0], nodes[1]):
         raise Refused(other)
-    return [node.term for node in kin_nodes(ground, nodes[0])]
+    return [node.term() for node in kin_nodes(ground, nodes[0])]
 
 
 def is_apart_paper(book, one, other, value):

@@ -15,10 +15,14 @@ class Kinds:
         products = times_rows(times)
         if products is None or products.names != sums.names:
             raise InvalidTable(times)
-        # The package reads these three, and changes none of them.
+        # The package reads these, and changes nothing of them.
         self.sum_table = table_of(sums.names, sums.rows)
         self.product_table = table_of(products.names, products.rows)
         self.kind_words = sums.names
+        self.sum_rows = sums.rows
+        self.product_rows = products.rows
+        # Which triples hold in the tables is told when it is asked, and kept: see triples_holding.
+        self.holding_triples = {}
 
     def __eq__(self, other):
         return (
@@ -135,31 +139,44 @@ def _table_sent(table, sent):
     return {(sent[first], sent[second]): sent[made] for (first, second), made in table.items()}
 
 
-def spreads_left(kinds, triple):
-    """Whether a times (b plus c) = (a times b) plus (a times c) in the tables, of a triple (a, b, c)."""
-    a, b, c = triple
-    plus, times = kinds.sum_table, kinds.product_table
-    return times[(a, plus[(b, c)])] == plus[(times[(a, b)], times[(a, c)])]
-
-
-def spreads_right(kinds, triple):
-    """Whether (b plus c) times a = (b times a) plus (c times a) in the tables, of a triple (b, c, a)."""
-    b, c, a = triple
-    plus, times = kinds.sum_table, kinds.product_table
-    return times[(plus[(b, c)], a)] == plus[(times[(b, a)], times[(c, a)])]
-
-
 def can_be_left(kinds):
     """The ascending list of (a, b, c) with a times (b plus c) = (a times b) plus (a times c)."""
     need_kinds(kinds)
-    return [triple for triple in _all_triples(kinds.kind_words) if spreads_left(kinds, triple)]
+    return list(triples_holding(kinds, "left"))
 
 
 def can_be_right(kinds):
     """The ascending list of (b, c, a) with (b plus c) times a = (b times a) plus (c times a)."""
     need_kinds(kinds)
-    return [triple for triple in _all_triples(kinds.kind_words) if spreads_right(kinds, triple)]
+    return list(triples_holding(kinds, "right"))
 
 
-def _all_triples(words):
-    return [(first, second, third) for first in words for second in words for third in words]
+def triples_holding(kinds, word):
+    """ALL triples of a side that hold in the tables, ascending: a dictionary that is not to be changed."""
+    if word not in kinds.holding_triples:
+        if word == "left":
+            found = _left_triples(kinds.kind_words, kinds.sum_rows, kinds.product_rows)
+        else:
+            found = _right_triples(kinds.kind_words, kinds.sum_rows, kinds.product_rows)
+        kinds.holding_triples[word] = found
+    return kinds.holding_triples[word]
+
+
+def _left_triples(words, sums, products):
+    found = {}
+    for first, row in zip(words, products):
+        for second, added, made in zip(words, sums, row):
+            for third, total, other in zip(words, added, row):
+                if row[total] == sums[made][other]:
+                    found[(first, second, third)] = True
+    return found
+
+
+def _right_triples(words, sums, products):
+    found = {}
+    for first, added, row in zip(words, sums, products):
+        for second, total, other in zip(words, added, products):
+            for third, whole, one, more in zip(words, products[total], row, other):
+                if whole == sums[one][more]:
+                    found[(first, second, third)] = True
+    return found

@@ -45,32 +45,43 @@ def row_kind(ground, factors):
 
 
 def cuts(ground, node):
-    """The unlike lists of two lots, none empty, into which the summands of a sum can be cut by their places.
+    """All ways to cut the summands of a sum, by their places, into two lots, none empty.
 
-    The first summand is in the first lot, as triples hold for the lots in either order.
+    Each is told by the kinds of the lots and a number, see lots_of. The first summand is in the first lot, as
+    triples hold for the lots in either order.
     """
-    if node.lots is None:
-        node.lots = _cuts_anew(ground, node.parts)
-    return node.lots
+    kinds = tuple([part.kind for part in node.parts])
+    if kinds not in ground.cuts:
+        ground.cuts[kinds] = [_cut_at(ground, kinds, number) for number in range(1, 1 << (len(kinds) - 1))]
+    return ground.cuts[kinds]
 
 
-def _cuts_anew(ground, parts):
-    found = {}
-    for number in range(1, 1 << (len(parts) - 1)):
-        lots = [[parts[0]], []]
-        for at, part in enumerate(parts[1:]):
-            lots[(number >> at) & 1].append(part)
-        one, other = [summands_together(ground, lot) for lot in lots]
-        found[(one.text, other.text)] = [one, other]
-    return list(found.values())
+def _cut_at(ground, kinds, number):
+    one, other = _lots_apart(kinds, number)
+    return put_together(ground.sums, one), put_together(ground.sums, other), number
 
 
-def case_of(place, lots):
-    """The word and the kinds by which a sum with these lots would spread at a place."""
-    one, other = lots
+def _lots_apart(summands, number):
+    """Two lots of summands: each but the first one goes where its figure in the number tells."""
+    lots = [[summands[0]], []]
+    for at, summand in enumerate(summands[1:]):
+        lots[(number >> at) & 1].append(summand)
+    return lots
+
+
+def lots_of(ground, node, number):
+    """The two lots of a cut of a sum."""
+    key = (node, number)
+    if key not in ground.lots:
+        ground.lots[key] = [summands_together(ground, lot) for lot in _lots_apart(node.parts, number)]
+    return ground.lots[key]
+
+
+def case_of(place, one, other):
+    """The word and the kinds by which a sum with two lots of these kinds would spread at a place."""
     if place.word == "left":
-        return ("left", (place.kind, one.kind, other.kind))
-    return ("right", (one.kind, other.kind, place.kind))
+        return ("left", (place.kind, one, other))
+    return ("right", (one, other, place.kind))
 
 
 def fits(ground, case):
@@ -98,20 +109,21 @@ def spread_moves(ground, node):
 
     A case is told with its lots in one order.
     """
-    if node.onward is None:
-        node.onward = _spread_moves_anew(ground, node)
-    return node.onward
+    if node not in ground.onward:
+        ground.onward[node] = _spread_moves_anew(ground, node)
+    return ground.onward[node]
 
 
 def _spread_moves_anew(ground, node):
     moves = {}
     for place in places(ground, node):
-        for lots in cuts(ground, node.parts[place.at]):
-            case = case_of(place, lots)
+        total = node.parts[place.at]
+        for one, other, number in cuts(ground, total):
+            case = case_of(place, one, other)
             if fits(ground, case):
-                outcome = spread_at(ground, node, place, lots)
+                outcome = spread_at(ground, node, place, lots_of(ground, total, number))
                 moves.setdefault(outcome, {})[case] = True
-    for at, part in enumerate(node.parts):
+    for at, part in _parts_that_move(node):
         for inner, cases in spread_moves(ground, part).items():
             outcome = with_part(ground, node, at, inner)
             there = moves.setdefault(outcome, {})
@@ -120,18 +132,27 @@ def _spread_moves_anew(ground, node):
     return moves
 
 
+def _parts_that_move(node):
+    """The places and the parts of a node that are no things: nothing becomes of a thing."""
+    return [(at, part) for at, part in enumerate(node.parts) if part.parts]
+
+
 def gather_moves(ground, node):
     """All gatherings of a node, at any depth: the list of the unlike nodes that they make."""
-    if node.backward is None:
-        made = {}
-        if node.word == "sum":
-            for outcome in _gathered_here(ground, node.parts):
-                made[outcome] = True
-        for at, part in enumerate(node.parts):
-            for inner in gather_moves(ground, part):
-                made[with_part(ground, node, at, inner)] = True
-        node.backward = list(made)
-    return node.backward
+    if node not in ground.backward:
+        ground.backward[node] = _gather_moves_anew(ground, node)
+    return ground.backward[node]
+
+
+def _gather_moves_anew(ground, node):
+    made = {}
+    if node.word == "sum":
+        for outcome in _gathered_here(ground, node.parts):
+            made[outcome] = True
+    for at, part in _parts_that_move(node):
+        for inner in gather_moves(ground, part):
+            made[with_part(ground, node, at, inner)] = True
+    return list(made)
 
 
 def _gathered_here(ground, summands):
@@ -261,9 +282,9 @@ def first_spread(ground, node):
 
 def led_on(ground, node):
     """A full spread of a node: always the same one."""
-    if node.full is None:
-        node.full = _led_on_anew(ground, node)
-    return node.full
+    if node not in ground.fulls:
+        ground.fulls[node] = _led_on_anew(ground, node)
+    return ground.fulls[node]
 
 
 def _led_on_anew(ground, node):

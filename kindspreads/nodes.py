@@ -5,28 +5,33 @@ and what was once found out about a term is kept with it.
 """
 
 from kindspreads.kinds import put_together
-from kindspreads.plain import is_one_of, is_word
-
-WORDS = ("sum", "product")
+from kindspreads.plain import is_word
 
 
 class Node:
     """A thing, a sum or a product of a ground, its parts being nodes of this ground, too."""
 
-    def __init__(self, word, parts, text, kind, term):
+    def __init__(self, word, parts, text, factor_text, kind):
         self.word = word
         self.parts = parts
         self.text = text
-        self.factor_text = f"({text})" if word == "sum" else text
+        self.factor_text = factor_text
         self.kind = kind
-        self.term = term
-        self.size = sum([part.size for part in parts]) if parts else 1
-        # None as long as nobody asked: see moves, and for the last one classes of nodes in ways.
-        self.lots = None
-        self.onward = None
-        self.backward = None
-        self.full = None
-        self.kin = None
+        # Most nodes are steps on the way to others: their terms are made when they are asked for.
+        self.term_made = None
+
+    def term(self):
+        """The term of the node."""
+        if self.word == "thing":
+            return self.text
+        if self.term_made is None:
+            self.term_made = (self.word, *[part.term() for part in self.parts])
+        return self.term_made
+
+    def size(self):
+        """How many things the node has, each as often as it stands."""
+        # In the text things and plus signs stand between blanks.
+        return self.text.count(" ") + 1 - self.text.count("+")
 
 
 class Ground:
@@ -37,10 +42,17 @@ class Ground:
         self.products = rule.kinds().product_table
         self.triples = rule.triples
         self.sorts = sorts
-        self.things = {thing: Node("thing", [], thing, sorts[thing], thing) for thing in sorts}
+        self.things = {thing: Node("thing", [], thing, thing, kind) for thing, kind in sorts.items()}
         # All sums and products that were made, by their texts: terms nest too deep to be keys themselves.
         self.known = {}
-        # Lots that fit, by the kinds of summands and blocks: see moves.
+        # What was found out about nodes, by these: see moves, and for the last one walks.
+        self.lots = {}
+        self.onward = {}
+        self.backward = {}
+        self.fulls = {}
+        self.classes = {}
+        # What only the kinds of summands and blocks tell: see moves.
+        self.cuts = {}
         self.fitting = {}
 
 
@@ -87,20 +99,17 @@ def _parts_apart(word, nodes):
 def _sum_node(ground, parts):
     text = " + ".join([part.text for part in parts])
     if text not in ground.known:
-        ground.known[text] = _new_node("sum", parts, text, ground.sums)
+        kind = put_together(ground.sums, [part.kind for part in parts])
+        ground.known[text] = Node("sum", parts, text, f"({text})", kind)
     return ground.known[text]
 
 
 def _product_node(ground, parts):
     text = " ".join([part.factor_text for part in parts])
     if text not in ground.known:
-        ground.known[text] = _new_node("product", parts, text, ground.products)
+        kind = put_together(ground.products, [part.kind for part in parts])
+        ground.known[text] = Node("product", parts, text, text, kind)
     return ground.known[text]
-
-
-def _new_node(word, parts, text, table):
-    kind = put_together(table, [part.kind for part in parts])
-    return Node(word, parts, text, kind, (word, *[part.term for part in parts]))
 
 
 def with_part(ground, node, at, part):
@@ -119,15 +128,18 @@ def node_in(ground, value):
     """The node of any object that is a term of the ground's things, None of any other one."""
     if isinstance(value, str):
         return ground.things.get(value)
-    if not isinstance(value, tuple) or len(value) < 3 or not is_one_of(value[0], WORDS):
+    if not isinstance(value, tuple) or len(value) < 3:
+        return None
+    word = value[0]
+    if word != "sum" and word != "product":
         return None
     parts = []
     for part in value[1:]:
         node = node_in(ground, part)
-        if node is None or node.word == value[0]:
+        if node is None or node.word == word:
             return None
         parts.append(node)
-    if value[0] == "product":
+    if word == "product":
         return _product_node(ground, parts)
     texts = [part.text for part in parts]
     return _sum_node(ground, parts) if texts == sorted(texts) else None
@@ -141,7 +153,7 @@ def by_text(nodes):
 
 def terms_by_text(nodes):
     """The terms of the unlike ones of some nodes, ascending by their texts."""
-    return [node.term for node in by_text(nodes)]
+    return [node.term() for node in by_text(nodes)]
 
 
 def inner_nodes(node):
@@ -161,16 +173,19 @@ def things_of(node):
 
 def form_text(value):
     """The text of a term by its form, None of any other object."""
-    if is_word(value):
-        return value
-    if not isinstance(value, tuple) or len(value) < 3 or not is_one_of(value[0], WORDS):
+    if isinstance(value, str):
+        return value if is_word(value) else None
+    if not isinstance(value, tuple) or len(value) < 3:
+        return None
+    word = value[0]
+    if word != "sum" and word != "product":
         return None
     texts = []
     for part in value[1:]:
         text = form_text(part)
-        if text is None or (isinstance(part, tuple) and part[0] == value[0]):
+        if text is None or (isinstance(part, tuple) and part[0] == word):
             return None
-        texts.append(f"({text})" if isinstance(part, tuple) and value[0] == "product" else text)
-    if value[0] == "product":
+        texts.append(f"({text})" if word == "product" and isinstance(part, tuple) else text)
+    if word == "product":
         return " ".join(texts)
     return " + ".join(texts) if texts == sorted(texts) else None

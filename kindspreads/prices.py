@@ -92,7 +92,7 @@ def way_to_cheapest(book, prices, term):
     least = _least(ground, prices, node)
     # The walk begins with the term itself: it stays where nothing is cheaper.
     ends = [kin for kin in before if _price_of(prices, kin) == least]
-    return [each.term for each in way_back(before, ends[0])]
+    return [each.term() for each in way_back(before, ends[0])]
 
 
 def is_way_to_cheapest(book, prices, term, value):
@@ -117,14 +117,14 @@ def _kin_of(book, term):
 def fewest_signed(book, term):
     """Any kin term with the fewest times signs."""
     kin = _kin_of(book, term)
-    return min(kin, key=lambda node: _signs_of(node, "product")).term
+    return min(kin, key=lambda node: _signs_of(node, "product")).term()
 
 
 def is_fewest_signed(book, term, value):
     """Whether any object is a kin term with the fewest times signs."""
     kin = _kin_of(book, term)
     fewest = min([_signs_of(node, "product") for node in kin])
-    return value in [node.term for node in kin if _signs_of(node, "product") == fewest]
+    return value in [node.term() for node in kin if _signs_of(node, "product") == fewest]
 
 
 def many_by_signs(book, term):

@@ -1,7 +1,7 @@
 """Rules: for which kinds a product spreads over a sum, from the left and from the right."""
 
 from kindspreads.errors import InvalidMap, InvalidRule, InvalidTriples, InvalidWord, Unlike
-from kindspreads.kinds import can_be_left, can_be_right, need_kinds, opposite, renamed, spreads_left, spreads_right
+from kindspreads.kinds import can_be_left, can_be_right, need_kinds, opposite, renamed, triples_holding
 from kindspreads.plain import is_map_to_words, is_one_of
 
 SIDES = ("left", "right")
@@ -52,20 +52,12 @@ def turned(word, triple):
     return (triple[1], triple[0], triple[2])
 
 
-def triples_that_hold(kinds, word):
-    """ALL triples of a side that hold in the tables, ascending."""
-    if word == "left":
-        return can_be_left(kinds)
-    return can_be_right(kinds)
-
-
 def is_triple_of(kinds, word, value):
     """Whether any object is a triple of a side that holds in the tables."""
     if not isinstance(value, tuple) or len(value) != 3:
         return False
-    if not all([is_one_of(kind, kinds.kind_words) for kind in value]):
-        return False
-    return spreads_left(kinds, value) if word == "left" else spreads_right(kinds, value)
+    # What is no string cannot always be looked up.
+    return all([isinstance(kind, str) for kind in value]) and value in triples_holding(kinds, word)
 
 
 def _are_triples_of(kinds, word, value):

@@ -35,7 +35,7 @@ def shape_term(rule, number, row):
     if not _is_row_of_shape(rule, number, row):
         raise InvalidKinds(row)
     book = _shape_book(rule, row)
-    return book, _shape_node(need_ground(book), number, LETTERS).term
+    return book, _shape_node(need_ground(book), number, LETTERS).term()
 
 
 def _is_row_of_shape(rule, number, value):

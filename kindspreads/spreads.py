@@ -20,14 +20,14 @@ def gatherings(book, term):
 
 def many_things(book, term):
     """How many things a term has, each as often as it stands."""
-    return need_node(need_ground(book), term).size
+    return need_node(need_ground(book), term).size()
 
 
 def copied(book, term, outcome):
     """How many things the block of a spread with this outcome has."""
     ground = need_ground(book)
     node = need_node(ground, term)
-    return _need_outcome(ground, node, outcome).size - node.size
+    return _need_outcome(ground, node, outcome).size() - node.size()
 
 
 def is_spread(book, term, value):
@@ -74,10 +74,10 @@ def lacking(book, term):
     ground = need_ground(book)
     inner = list(inner_nodes(need_node(ground, term)).values())
     told = [
-        case_of(place, lots)
+        case_of(place, one, other)
         for node in inner
         for place in places(ground, node)
-        for lots in cuts(ground, node.parts[place.at])
+        for one, other, _ in cuts(ground, node.parts[place.at])
     ]
     return _either_order([case for case in told if not fits(ground, case)])
 

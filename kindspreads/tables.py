@@ -2,6 +2,9 @@
 
 from kindspreads.plain import is_word
 
+# With no more words than this it is not worth while to look for those that make all others.
+FEW = 8
+
 
 class Rows:
     """The words of a table, ascending, and for each word the row of the places of what it makes with each."""
@@ -35,39 +38,43 @@ def table_rows(value):
 
 
 def brackets_are_free(rows):
-    """Whether three put together make one however they are bracketed.
+    """Whether three put together make one however they are bracketed."""
+    for middle in _middles(rows):
+        behind = rows[middle]
+        for row in rows:
+            if rows[row[middle]] != [row[place] for place in behind]:
+                return False
+    return True
+
+
+def _middles(rows):
+    """The places that have to be tried in the middle of three.
 
     Where x (b y) is (x b) y for ALL x and y, b may be called a good middle; what two good ones make is one, too.
-    So only those are looked at that are not made by the ones ahead of them.
+    So it is enough to try some that make all others.
     """
-    good = [False for _ in rows]
-    for middle in range(len(rows)):
-        if not good[middle]:
-            if not _is_good_middle(rows, middle):
-                return False
-            _add_good(rows, good, middle)
-    return True
+    if len(rows) <= FEW:
+        return list(range(len(rows)))
+    made = [False for _ in rows]
+    found = []
+    for place in range(len(rows)):
+        if not made[place]:
+            found.append(place)
+            _add_made(rows, made, place)
+    return found
 
 
-def _is_good_middle(rows, middle):
-    behind = rows[middle]
-    for row in rows:
-        if rows[row[middle]] != [row[place] for place in behind]:
-            return False
-    return True
-
-
-def _add_good(rows, good, first):
-    """Mark one as good, and all that the good ones make of one another."""
-    good[first] = True
+def _add_made(rows, made, first):
+    """Mark a place, and all that the marked ones make of one another."""
+    made[first] = True
     ahead = [first]
     while ahead:
         there = ahead.pop()
-        for other in [place for place, marked in enumerate(good) if marked]:
-            for made in (rows[there][other], rows[other][there]):
-                if not good[made]:
-                    good[made] = True
-                    ahead.append(made)
+        for other in [place for place, marked in enumerate(made) if marked]:
+            for place in (rows[there][other], rows[other][there]):
+                if not made[place]:
+                    made[place] = True
+                    ahead.append(place)
 
 
 def order_is_free(rows):

@@ -104,7 +104,7 @@ def term_of(text):
 
 def parts_of(book, term):
     """The list of the summands, or factors, in their order; a thing has none."""
-    return [part.term for part in need_node(need_ground(book), term).parts]
+    return [part.term() for part in need_node(need_ground(book), term).parts]
 
 
 def kind_of(book, term):
@@ -115,13 +115,13 @@ def kind_of(book, term):
 def sum_of(book, terms):
     """The sum of terms, put together flat."""
     ground = need_ground(book)
-    return flat_sum(ground, need_nodes(ground, terms)).term
+    return flat_sum(ground, need_nodes(ground, terms)).term()
 
 
 def product_of(book, terms):
     """The product of terms in their order, put together flat."""
     ground = need_ground(book)
-    return flat_product(ground, need_nodes(ground, terms)).term
+    return flat_product(ground, need_nodes(ground, terms)).term()
 
 
 def inner_terms(book, term):
@@ -146,7 +146,7 @@ def put_in(book, term, sent):
     node = need_node(ground, term)
     if not _is_putting_in(ground, sent):
         raise InvalidMap(sent)
-    return _node_sent(ground, node, {thing: node_of(ground, sent[thing]) for thing in sent}).term
+    return _node_sent(ground, node, {thing: node_of(ground, sent[thing]) for thing in sent}).term()
 
 
 def _is_putting_in(ground, value):
@@ -175,7 +175,7 @@ def mirrored_book(book):
 def mirrored_term(book, term):
     """The term of the mirrored book whose factors, through and through, are turned about."""
     ground = need_ground(book)
-    return _node_mirrored(ground, need_node(ground, term)).term
+    return _node_mirrored(ground, need_node(ground, term)).term()
 
 
 def _node_mirrored(ground, node):
@@ -200,7 +200,7 @@ def term_sent(book, term, sent):
     node = need_node(need_ground(book), term)
     _need_names(book, sent)
     ground = need_ground(with_things(book, sent))
-    return _node_sent(ground, node, {thing: ground.things[sent[thing]] for thing in sent}).term
+    return _node_sent(ground, node, {thing: ground.things[sent[thing]] for thing in sent}).term()
 
 
 def _need_names(book, sent):

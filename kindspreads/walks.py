@@ -11,7 +11,7 @@ def neighbours(ground, node):
 
 def kin_nodes(ground, node):
     """ALL kin of a node, itself among them, ascending by their texts; the list is not to be changed."""
-    if node.kin is None:
+    if node not in ground.classes:
         found = {node: True}
         ahead = [node]
         while ahead:
@@ -21,8 +21,8 @@ def kin_nodes(ground, node):
                     ahead.append(other)
         kin = by_text(found)
         for each in kin:
-            each.kin = kin
-    return node.kin
+            ground.classes[each] = kin
+    return ground.classes[node]
 
 
 def steps_before(ground, node):
@@ -71,7 +71,7 @@ def is_one_spread(ground, one, other):
 
     It is looked for among the gatherings: they go through pairs where spreads go through very many lots.
     """
-    return one.size < other.size and one in gather_moves(ground, other)
+    return one.size() < other.size() and one in gather_moves(ground, other)
 
 
 def is_way_of_spreads(ground, nodes):

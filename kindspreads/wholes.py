@@ -78,7 +78,7 @@ def _tally(words):
 def whole_of(book, term):
     """The sum of the products of the words of a term: the term spread wholly."""
     ground = need_ground(book)
-    return _whole_node(ground, need_node(ground, term)).term
+    return _whole_node(ground, need_node(ground, term)).term()
 
 
 def is_whole(book, term):

@@ -24,13 +24,13 @@ class Coming:
 def coming(book, term):
     """The list of the terms first by text of the classes that come, by their things and their texts."""
     ground = need_ground(book)
-    return [node.term for node in _coming_of(ground, need_node(ground, term)).firsts]
+    return [node.term() for node in _coming_of(ground, need_node(ground, term)).firsts]
 
 
 def _coming_of(ground, node):
     # All kin of what comes come too: a part of a term may be exchanged for its kin.
     firsts = {kin_nodes(ground, each)[0]: True for each in _pieces(ground, node)}
-    order = sorted(firsts, key=lambda first: (first.size, first.text))
+    order = sorted(firsts, key=lambda first: (first.size(), first.text))
     place_of = {each: place for place, first in enumerate(order) for each in kin_nodes(ground, first)}
     return Coming(order, place_of, words_and_things(node))
 

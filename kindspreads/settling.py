@@ -235,7 +235,7 @@ def _rows_of_sums_as_blocks(blocks):
     found = []
     sums, products, ahead, behind = blocks.sums, blocks.products, blocks.ahead, blocks.behind
     factors = blocks.words + [""]
-    for a, b in [(a, b) for a in blocks.words for b in blocks.words if a <= b]:
+    for a, b in sorted({pair for pairs in blocks.pairs_behind.values() for pair in pairs}):
         for x, y in [(x, y) for x in factors for y in factors if (a, b) not in ahead[x] and (a, b) not in behind[y]]:
             inner = products[(sums[(a, b)], y)]
             for c, d in blocks.pairs_ahead[products[(x, inner)]]:

@@ -4,6 +4,7 @@ from kindspreads.errors import InvalidTerm
 from kindspreads.moves import both_cases, case_of, cuts, fits, gather_moves, places, spread_moves
 from kindspreads.nodes import inner_nodes, node_in, terms_by_text
 from kindspreads.terms import need_ground, need_node
+from kindspreads.walks import is_one_spread
 
 
 def spreads(book, term):
@@ -35,8 +36,7 @@ def is_spread(book, term, value):
     ground = need_ground(book)
     node = need_node(ground, term)
     outcome = node_in(ground, value)
-    # Gathering goes through few pairs where spreading goes through very many lots.
-    return outcome is not None and node in gather_moves(ground, outcome)
+    return outcome is not None and is_one_spread(ground, node, outcome)
 
 
 def is_gathering(book, term, value):
@@ -44,7 +44,7 @@ def is_gathering(book, term, value):
     ground = need_ground(book)
     node = need_node(ground, term)
     outcome = node_in(ground, value)
-    return outcome is not None and outcome in gather_moves(ground, node)
+    return outcome is not None and is_one_spread(ground, outcome, node)
 
 
 def cases(book, term):

@@ -70,11 +70,11 @@ def _add_made(rows, made, first):
     ahead = [first]
     while ahead:
         there = ahead.pop()
-        for other in [place for place, marked in enumerate(made) if marked]:
-            for place in (rows[there][other], rows[other][there]):
-                if not made[place]:
-                    made[place] = True
-                    ahead.append(place)
+        others = [other for other, marked in enumerate(made) if marked]
+        for place in [rows[there][other] for other in others] + [rows[other][there] for other in others]:
+            if not made[place]:
+                made[place] = True
+                ahead.append(place)
 
 
 def order_is_free(rows):

@@ -15,7 +15,8 @@ def kin_nodes(ground, node):
         found = {node: True}
         ahead = [node]
         while ahead:
-            for other in neighbours(ground, ahead.pop()):
+            there = ahead.pop()
+            for other in neighbours(ground, there):
                 if other not in found:
                     found[other] = True
                     ahead.append(other)

@@ -222,8 +222,8 @@ def _rows_of_crossed_blocks(blocks):
                 whole = products[(x, products[(y, z)])]
                 for a, b in blocks.pairs_behind[products[(x, y)]]:
                     inner = (a, b) in behind[x] or (z != "" and (a, b) in behind[whole])
-                    for c, d in [] if inner else blocks.pairs_ahead[products[(y, z)]]:
-                        between = (c, d) in ahead[z] or (x != "" and (c, d) in ahead[whole])
+                    for c, d in blocks.pairs_ahead[products[(y, z)]]:
+                        between = inner or (c, d) in ahead[z] or (x != "" and (c, d) in ahead[whole])
                         longer = (a, b) in behind[products[(whole, sums[(c, d)])]]
                         if not between and not longer and (c, d) not in ahead[products[(sums[(a, b)], whole)]]:
                             found.append(_row_of_sums((), (a, b), (x, y, z), (c, d), ()))

@@ -30,7 +30,7 @@ def coming(book, term):
 def _coming_of(ground, node):
     # All kin of what comes come too: a part of a term may be exchanged for its kin.
     firsts = {kin_nodes(ground, each)[0]: True for each in _pieces(ground, node)}
-    order = sorted(firsts, key=lambda first: (first.size(), first.text))
+    order = sorted(firsts, key=lambda each: (each.size(), each.text))
     place_of = {each: place for place, first in enumerate(order) for each in kin_nodes(ground, first)}
     return Coming(order, place_of, words_and_things(node))
 

@@ -2,10 +2,10 @@
 
 from kindspreads.errors import InvalidHolding, InvalidInputs, InvalidTable, InvalidTerms, InvalidTriples, InvalidWord
 from kindspreads.errors import InvalidWorld, Unlike
-from kindspreads.kinds import can_be_left, can_be_right, need_kinds, opposite, plus_rows, times_rows
+from kindspreads.kinds import need_kinds, opposite, plus_rows, times_rows, triples_holding
 from kindspreads.nodes import things_of
 from kindspreads.plain import is_one_of, is_row_of
-from kindspreads.rules import SIDES, Rule, is_triple_of, need_rule, turned
+from kindspreads.rules import SIDES, Rule, is_triple_of, need_rule, turned, with_turned
 from kindspreads.tables import table_of
 from kindspreads.terms import need_book, need_ground, need_node
 from kindspreads.walks import listed_nodes
@@ -174,10 +174,13 @@ def fits_rule(world, rule):
 def rule_of(world):
     """The rule of ALL triples that spread in a world."""
     need_world(world)
-    kinds = world.kinds()
-    left = [triple for triple in can_be_left(kinds) if _parting_places(world, "left", triple) is None]
-    right = [triple for triple in can_be_right(kinds) if _parting_places(world, "right", triple) is None]
-    return Rule(kinds, left, right)
+    left, right = [_spreading_triples(world, word) for word in SIDES]
+    return Rule(world.kinds(), left, right)
+
+
+def _spreading_triples(world, word):
+    could_be = [triple for triple in triples_holding(world.kinds(), word) if triple <= turned(word, triple)]
+    return with_turned(word, [triple for triple in could_be if _parting_places(world, word, triple) is None])
 
 
 def mirrored_world(world):

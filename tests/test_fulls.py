@@ -158,7 +158,7 @@ class SpreadingTest(unittest.TestCase):
             self.assertIs(is_spreading(book, term, wrong), False, wrong)
 
     def test_blocks_have_as_many_things_on_every_way(self):
-        book, term = stop_book(), term_of("a b (c + d) (a + e)")
+        book, term = stop_book(), term_of("a (c + d) (a + e)")
         for way in self.all_ways(book, term):
             copied = [many_things(book, other) - many_things(book, one) for one, other in zip(way, way[1:])]
             self.assertEqual(sum(copied), copied_things(book, term))

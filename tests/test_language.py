@@ -139,13 +139,14 @@ class LanguageTest(unittest.TestCase):
             self.assertNotRegex(node.attr, BARRED, (name, node.lineno))
 
     def test_calls(self):
-        known = own_names() | BUILTINS | set().union(*IMPORTED.values())
+        own = own_names()
+        known = own | BUILTINS | set().union(*IMPORTED.values())
         for name, node in walk(ast.Call):
             if isinstance(node.func, ast.Name):
                 self.assertIn(node.func.id, known, (name, node.lineno))
             else:
                 self.assertIsInstance(node.func, ast.Attribute, (name, node.lineno))
-                self.assertIn(node.func.attr, own_names() | METHODS, (name, node.lineno))
+                self.assertIn(node.func.attr, own | METHODS, (name, node.lineno))
 
     def test_nothing_in_a_function_hides_an_import(self):
         for name, tree in trees():

@@ -86,6 +86,13 @@ def summands_together(ground, summands):
     return _sum_node(ground, summands)
 
 
+def factors_together(ground, factors):
+    """The product of some factors, none of them a product; one alone is itself."""
+    if len(factors) == 1:
+        return factors[0]
+    return _product_node(ground, factors)
+
+
 def _parts_apart(word, nodes):
     parts = []
     for node in nodes:

@@ -72,14 +72,12 @@ def _need_outcome(ground, node, outcome):
 def lacking(book, term):
     """The ascending list of the words and kinds by which its products do not spread."""
     ground = need_ground(book)
-    inner = list(inner_nodes(need_node(ground, term)).values())
-    told = [
-        case_of(place, one, other)
-        for node in inner
-        for place in places(ground, node)
-        for one, other, _ in cuts(ground, node.parts[place.at])
-    ]
-    return _either_order([case for case in told if not fits(ground, case)])
+    found = {}
+    for inner in inner_nodes(need_node(ground, term)).values():
+        for place in places(ground, inner):
+            for one, other, _ in cuts(ground, inner.parts[place.at]):
+                found[case_of(place, one, other)] = True
+    return _either_order([case for case in found if not fits(ground, case)])
 
 
 def _either_order(told):

@@ -1,6 +1,6 @@
 """Words of terms: rows of things, as if a term were spread wholly, whatever the rule."""
 
-from kindspreads.nodes import flat_product, flat_sum
+from kindspreads.nodes import factors_together, flat_sum
 from kindspreads.terms import need_ground, need_node
 
 MOST_WORDS = 6
@@ -90,7 +90,7 @@ def is_whole(book, term):
 
 def _whole_node(ground, node):
     rows = [[ground.things[thing] for thing in word] for word in _words_within(node)]
-    return flat_sum(ground, [flat_product(ground, row) for row in rows])
+    return flat_sum(ground, [factors_together(ground, row) for row in rows])
 
 
 def is_small(book, term):

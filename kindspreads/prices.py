@@ -8,17 +8,18 @@ from kindspreads.walks import is_way, kin_nodes, listed_nodes, steps_before, tal
 
 def times_signs(book, term):
     """How many times signs a term has, those within its parts counted."""
-    return _signs_of(need_node(need_ground(book), term), "product")
+    return signs_of(need_node(need_ground(book), term), "product")
 
 
 def plus_signs(book, term):
     """How many plus signs a term has, those within its parts counted."""
-    return _signs_of(need_node(need_ground(book), term), "sum")
+    return signs_of(need_node(need_ground(book), term), "sum")
 
 
-def _signs_of(node, word):
+def signs_of(node, word):
+    """How many times signs, or plus signs, a node has, by the word of what they belong to."""
     own = len(node.parts) - 1 if node.word == word else 0
-    return own + sum([_signs_of(part, word) for part in node.parts])
+    return own + sum([signs_of(part, word) for part in node.parts])
 
 
 def price(book, prices, term):
@@ -106,7 +107,7 @@ def is_way_to_cheapest(book, prices, term, value):
 
 def fewest_times(book, term):
     """The least number of times signs that a kin term has."""
-    return min([_signs_of(kin, "product") for kin in _kin_of(book, term)])
+    return min([signs_of(kin, "product") for kin in _kin_of(book, term)])
 
 
 def _kin_of(book, term):
@@ -117,16 +118,16 @@ def _kin_of(book, term):
 def fewest_signed(book, term):
     """Any kin term with the fewest times signs."""
     kin = _kin_of(book, term)
-    return min(kin, key=lambda node: _signs_of(node, "product")).term()
+    return min(kin, key=lambda node: signs_of(node, "product")).term()
 
 
 def is_fewest_signed(book, term, value):
     """Whether any object is a kin term with the fewest times signs."""
     kin = _kin_of(book, term)
-    fewest = min([_signs_of(node, "product") for node in kin])
-    return value in [node.term() for node in kin if _signs_of(node, "product") == fewest]
+    fewest = min([signs_of(node, "product") for node in kin])
+    return value in [node.term() for node in kin if signs_of(node, "product") == fewest]
 
 
 def many_by_signs(book, term):
     """The dictionary from the numbers of times signs of kin terms, ascending, to how many of them have so many."""
-    return tally([_signs_of(kin, "product") for kin in _kin_of(book, term)])
+    return tally([signs_of(kin, "product") for kin in _kin_of(book, term)])

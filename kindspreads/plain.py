@@ -2,6 +2,10 @@
 
 LETTERS = "abcdefghijklmnopqrstuvwxyz"
 
+# Numbers are written and read in pieces of so many figures.
+MANY_FIGURES = 18
+GREAT = 1000000000000000000
+
 
 def is_word(value):
     """Whether any object is a string of one to eight letters from a to z."""
@@ -50,3 +54,26 @@ def name_at(place):
         place = place // 26 - 1
         name = LETTERS[place % 26] + name
     return name
+
+
+def figures(count):
+    """The figures of a count: Python itself refuses to write numbers of very many."""
+    told = []
+    rest = count
+    while rest >= GREAT:
+        rest, last = divmod(rest, GREAT)
+        told.append(str(last).zfill(MANY_FIGURES))
+    told.append(str(rest))
+    return "".join(told[::-1])
+
+
+def number_read(text):
+    """The count that some figures tell, None of other texts; noughts ahead are let."""
+    if not text.isascii() or not text.isdigit():
+        return None
+    # Like figures, this goes piece by piece, as Python refuses to read very many at once.
+    first = len(text) % MANY_FIGURES
+    number = int("0" + text[:first])
+    for at in range(first, len(text), MANY_FIGURES):
+        number = number * GREAT + int(text[at:at + MANY_FIGURES])
+    return number

@@ -11,6 +11,14 @@ CLASSES = {
     "terms": {"Book": ("rule things", {"rule": "", "things": "", "__eq__": "other"})},
     "valued": {"World": ("plus times kinds holding", {"plus": "", "times": "", "kinds": "", "holding": "", "words": "",
                                                       "__eq__": "other"})},
+    "programs": {"Program": ("book lines", {"book": "", "lines": "", "__eq__": "other"})},
+    "bench": {"Bench": ("book", {
+        "put": "term", "take": "spot", "spots": "", "term_there": "spot", "aim_there": "spot", "full_there": "spot",
+        "spread": "spot term", "gather": "spot term", "fill": "spot", "aim": "spot term", "let_go": "spot",
+        "is_met": "spot", "way": "spot", "is_way": "spot value", "add": "one other", "multiply": "one other",
+        "alike_spots": "spot", "most_copied": "", "trial": "", "attempt": "action", "copy": "", "undo": "", "redo": "",
+        "record": "",
+    })},
 }
 FUNCTIONS = {
     "kinds": {
@@ -80,6 +88,35 @@ FUNCTIONS = {
         "rule_of": "world", "are_inputs": "world book value", "value_of": "world book inputs term",
         "same_always": "world book one other", "parting_inputs": "world book one other",
         "are_parting_inputs": "world book one other value", "alike_terms": "world book terms", "mirrored_world": "world",
+    },
+    "ends": {
+        "is_end": "book term", "why_no_end": "book term", "is_why_no_end": "book term value", "gathered": "book term",
+        "is_gathered": "book term value", "ends_reached": "book term", "all_ends": "book term",
+        "many_ends": "book term", "missed_ends": "book term", "has_one_end": "book term", "fewest_ends": "book term",
+    },
+    "struck": {
+        "common": "book one other", "struck": "book one other", "kin_struck": "book one other",
+        "frees": "book one other third", "freeing_things": "book one other", "hides": "book one other thing word",
+        "hiding_things": "book one other", "kin_pairs": "book terms", "pairs_with": "book terms third",
+    },
+    "programs": {
+        "result_of": "program", "terms_of": "program", "sorts_of": "program", "signs_in": "program",
+        "trimmed": "program", "merged": "program", "program_of": "book term", "is_program_of": "book term value",
+        "fewest_lines": "book term", "same_everywhere": "one other", "saved": "one other",
+        "values_there": "program world inputs",
+    },
+    "folding": {
+        "is_folding": "rule value", "all_foldings": "rule", "coarsest": "rule", "telling": "rule one other",
+        "is_telling": "rule one other value", "folded_rule": "rule lists", "folded_book": "book lists",
+    },
+    "bench": {"replayed": "bench record"},
+    "scripts": {
+        "play": "bench script", "script_text": "script", "read_script": "text", "end_of": "book script",
+        "shortened": "book script",
+    },
+    "papers": {
+        "rule_text": "rule", "read_rule": "text", "book_text": "book", "read_book": "text", "chain_text": "terms",
+        "read_chain": "text", "triples_text": "triples", "read_triples": "text",
     },
 }
 

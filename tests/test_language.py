@@ -28,7 +28,7 @@ BARRED = re.compile(
     r"\b(type|typing|enum|Enum|Generic|Protocol|ABC|namedtuple|NamedTuple|TypedDict|register|mro|elements|open|input"
     r"|law|eval|exec|globals|locals|vars|id|hash|filter|print|round|super)\b"
 )
-FOUND_ONCE = (ast.Global, ast.AsyncFunctionDef, ast.Await, ast.Try, ast.GeneratorExp, ast.Div, ast.Yield, ast.YieldFrom)
+NOWHERE = (ast.Global, ast.AsyncFunctionDef, ast.Await, ast.GeneratorExp, ast.Div, ast.Yield, ast.YieldFrom)
 
 
 def files():
@@ -114,12 +114,45 @@ class LanguageTest(unittest.TestCase):
             ahead = {name: ahead[name] for name in ahead if name not in free}
 
     def test_statements_and_expressions(self):
-        self.assertEqual([(name, node.lineno) for name, node in walk(FOUND_ONCE)], [])
+        self.assertEqual([(name, node.lineno) for name, node in walk(NOWHERE)], [])
         for name, node in walk(ast.Constant):
             self.assertNotIsInstance(node.value, (float, complex), name)
         for name, node in walk(ast.BinOp):
             if isinstance(node.op, ast.Pow):
                 self.assertIsInstance(node.right, ast.Constant, (name, node.lineno))
+
+    def test_tries_catch_own_errors(self):
+        own = {node.name for name, tree in trees() if name == "errors.py" for node in tree.body if isinstance(node, ast.ClassDef)}
+        for name, node in walk(ast.Try):
+            self.assertTrue(node.handlers and not node.finalbody, (name, node.lineno))
+            for handler in node.handlers:
+                self.assertIn(handler.type.id, own, (name, node.lineno))
+
+    def test_stars_stand_ahead_of_names(self):
+        for name, node in walk(ast.Call):
+            for argument in node.args:
+                if isinstance(argument, ast.Starred):
+                    self.assertIsInstance(argument.value, ast.Name, (name, node.lineno))
+            self.assertEqual([each for each in node.keywords if each.arg is None], [], (name, node.lineno))
+
+    def test_what_is_iterated_at_once(self):
+        at_once = {"list", "tuple", "dict", "sorted", "sum", "any", "all", "enumerate", "zip", "min", "max"}
+        lazy = {"zip", "enumerate", "reversed", "range", "combinations", "product", "permutations"}
+        for name, tree in trees():
+            fit = []
+            for node in ast.walk(tree):
+                if isinstance(node, (ast.For, ast.comprehension)):
+                    fit.append(id(node.iter))
+                elif isinstance(node, ast.Call) and isinstance(node.func, ast.Name) and node.func.id in at_once:
+                    fit += [id(each) for each in node.args]
+                elif isinstance(node, ast.Call) and node.args and isinstance(node.args[0], ast.Call):
+                    if getattr(node.args[0].func, "id", None) == "range" and getattr(node.func, "id", None) in lazy:
+                        fit.append(id(node.args[0]))
+            for node in ast.walk(tree):
+                if isinstance(node, ast.Call):
+                    views = isinstance(node.func, ast.Attribute) and node.func.attr in ("items", "keys", "values")
+                    if views or getattr(node.func, "id", None) in lazy:
+                        self.assertIn(id(node), fit, (name, node.lineno))
 
     def test_names(self):
         for name, node in walk(ast.FunctionDef):
@@ -141,9 +174,10 @@ class LanguageTest(unittest.TestCase):
     def test_calls(self):
         own = own_names()
         known = own | BUILTINS | set().union(*IMPORTED.values())
+        given = {argument.arg for _, node in walk(ast.FunctionDef) for argument in node.args.args}
         for name, node in walk(ast.Call):
             if isinstance(node.func, ast.Name):
-                self.assertIn(node.func.id, known, (name, node.lineno))
+                self.assertIn(node.func.id, known | (given & {"action"}), (name, node.lineno))
             else:
                 self.assertIsInstance(node.func, ast.Attribute, (name, node.lineno))
                 self.assertIn(node.func.attr, own | METHODS, (name, node.lineno))

@@ -131,7 +131,7 @@ class Bench:
         """Give a spot an aim."""
         self._need_spot(spot)
         ground, there = self._node_there(spot)
-        if not are_kin_nodes(self._book, ground, there, need_node(ground, term)):
+        if not are_kin_nodes(ground, there, need_node(ground, term)):
             raise Refused(term)
         self._turn(("aim", spot, term), self.page.terms, {**self.page.aims, spot: term})
 
@@ -170,7 +170,7 @@ class Bench:
         ground = need_ground(self._book)
         nodes = {each: node_of(ground, term) for each, term in self.page.terms.items()}
         others = [each for each in nodes if each != spot]
-        return [each for each in others if are_kin_nodes(self._book, ground, nodes[spot], nodes[each])]
+        return [each for each in others if are_kin_nodes(ground, nodes[spot], nodes[each])]
 
     def most_copied(self):
         """The ascending list of the spots at which filling would copy most things, empty if it would copy none."""

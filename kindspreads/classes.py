@@ -1,12 +1,12 @@
 """Classes: ALL terms that are kin with a term, and the fewest steps between them."""
 
 from kindspreads.errors import Apart, InvalidCount, InvalidRule, Refused, Unlike
-from kindspreads.kin import are_kin, are_kin_nodes
+from kindspreads.kin import are_kin_nodes, are_kin_over
 from kindspreads.kinds import triples_holding
-from kindspreads.nodes import node_of
+from kindspreads.nodes import Ground, node_of
 from kindspreads.plain import is_count_below
 from kindspreads.rules import SIDES, Rule, is_within, rule_with, turned, with_turned
-from kindspreads.terms import Book, need_ground, need_node
+from kindspreads.terms import need_ground, need_node
 from kindspreads.walks import is_way, kin_nodes, listed_nodes, steps_before, tally, way_back
 from kindspreads.wholes import node_words
 
@@ -108,7 +108,7 @@ def parted(book, term, rule):
         raise InvalidRule(rule)
     if rule.kinds() != book.rule().kinds() or not is_within(rule, book.rule()):
         raise Unlike(rule)
-    ground = need_ground(Book(rule, book.things()))
+    ground = Ground(rule, book.things())
     firsts = {kin_nodes(ground, node_of(ground, node.term()))[0]: True for node in kin}
     return [[node.term() for node in kin_nodes(ground, first)] for first in firsts]
 
@@ -116,7 +116,7 @@ def parted(book, term, rule):
 def linking(book, one, other):
     """The list of the words and triples that are not in the rule and by each of which two terms become kin."""
     ground, nodes = _two_nodes(book, one, other)
-    if are_kin_nodes(book, ground, nodes[0], nodes[1]):
+    if are_kin_nodes(ground, nodes[0], nodes[1]):
         raise Refused(other)
     # By no rule are terms of unlike words kin.
     if node_words(nodes[0]) != node_words(nodes[1]):
@@ -128,7 +128,7 @@ def linking(book, one, other):
         for triple in triples_holding(rule.kinds(), side)
         if triple not in rule.triples[side] and triple <= turned(side, triple)
     ]
-    return [case for case in cases if are_kin(Book(_rule_with_case(rule, case), book.things()), one, other)]
+    return [case for case in cases if are_kin_over(_rule_with_case(rule, case), book.things(), one, other)]
 
 
 def _rule_with_case(rule, case):

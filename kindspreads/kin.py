@@ -2,10 +2,10 @@
 
 from kindspreads.errors import Apart, InvalidRule, Refused, Unlike
 from kindspreads.moves import led_on
-from kindspreads.nodes import terms_by_text
+from kindspreads.nodes import Ground, terms_by_text
 from kindspreads.rules import Rule
 from kindspreads.shapes import is_settled
-from kindspreads.terms import Book, need_book, need_ground, need_node
+from kindspreads.terms import need_book, need_ground, need_node
 from kindspreads.walks import is_way, kin_nodes, listed_nodes, neighbours, steps_before, way_back, way_through_full
 from kindspreads.wholes import is_small_node, words_and_things
 
@@ -13,7 +13,7 @@ from kindspreads.wholes import is_small_node, words_and_things
 def are_kin(book, one, other):
     """Whether spreads and gatherings lead from one term to another."""
     ground, nodes = _two_nodes(book, one, other)
-    return are_kin_nodes(book, ground, nodes[0], nodes[1])
+    return are_kin_nodes(ground, nodes[0], nodes[1])
 
 
 def _two_nodes(book, one, other):
@@ -22,28 +22,30 @@ def _two_nodes(book, one, other):
     return ground, [need_node(ground, term) for term in (one, other)]
 
 
-def are_kin_nodes(book, ground, one, other):
-    """Whether two nodes of a book's ground are kin."""
+def are_kin_nodes(ground, one, other):
+    """Whether two nodes are kin."""
+    if one == other:
+        return True
     # Kin have the same kind, and the same words.
     if one.kind != other.kind or words_and_things(one) != words_and_things(other):
         return False
-    if _is_led_through_full(book, one):
+    if _is_led_through_full(ground, one):
         return led_on(ground, one) == led_on(ground, other)
     return other in kin_nodes(ground, one)
 
 
-def _is_led_through_full(book, node):
+def _is_led_through_full(ground, node):
     """Whether to go by way of full spreads of a settled rule."""
     # Small terms have few kin, which are found sooner than what is settled.
-    return not is_small_node(node) and is_settled(book.rule())
+    return not is_small_node(node) and is_settled(ground.rule)
 
 
 def chain(book, one, other):
     """Any list of terms from one to another, each an outcome of a spread or a gathering of the one ahead."""
     ground, nodes = _two_nodes(book, one, other)
-    if not are_kin_nodes(book, ground, nodes[0], nodes[1]):
+    if not are_kin_nodes(ground, nodes[0], nodes[1]):
         raise Apart(other)
-    if _is_led_through_full(book, nodes[0]):
+    if _is_led_through_full(ground, nodes[0]):
         way = way_through_full(ground, nodes[0], nodes[1])
     else:
         way = way_back(steps_before(ground, nodes[0]), nodes[1])
@@ -78,7 +80,7 @@ def _is_closed_list(ground, nodes):
 def apart_paper(book, one, other):
     """Any closed list that has one term and not another."""
     ground, nodes = _two_nodes(book, one, other)
-    if are_kin_nodes(book, ground, nodes[0], nodes[1]):
+    if are_kin_nodes(ground, nodes[0], nodes[1]):
         raise Refused(other)
     return [node.term() for node in kin_nodes(ground, nodes[0])]
 
@@ -110,4 +112,11 @@ def kin_by(book, rule, one, other):
         raise InvalidRule(rule)
     if rule.kinds() != book.rule().kinds():
         raise Unlike(rule)
-    return are_kin(Book(rule, book.things()), one, other)
+    return are_kin_over(rule, book.things(), one, other)
+
+
+def are_kin_over(rule, things, one, other):
+    """Whether two terms are kin in a book of a rule and of things."""
+    ground = Ground(rule, things)
+    nodes = [need_node(ground, term) for term in (one, other)]
+    return are_kin_nodes(ground, nodes[0], nodes[1])

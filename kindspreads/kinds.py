@@ -114,6 +114,9 @@ def _need_row(kinds, row):
 
 def put_together(table, row):
     """What a table makes of kinds one after the other; one alone stays as it is."""
+    # Most rows are of two.
+    if len(row) == 2:
+        return table[(row[0], row[1])]
     made = row[0]
     for kind in row[1:]:
         made = table[(made, kind)]

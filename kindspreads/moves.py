@@ -1,7 +1,7 @@
 """Single spreads and gatherings of nodes, and how a node is led on to a full spread."""
 
 from kindspreads.kinds import put_together
-from kindspreads.nodes import flat, flat_product, flat_sum, summands_together, with_part
+from kindspreads.nodes import factors_together, flat, flat_product, flat_sum, summands_together, with_part
 from kindspreads.rules import turned
 
 
@@ -50,30 +50,29 @@ def cuts(ground, node):
     Each is told by the kinds of the lots and a number, see lots_of. The first summand is in the first lot, as
     triples hold for the lots in either order.
     """
-    kinds = tuple([part.kind for part in node.parts])
+    kinds = node.part_kinds
     if kinds not in ground.cuts:
-        ground.cuts[kinds] = [_cut_at(ground, kinds, number) for number in range(1, 1 << (len(kinds) - 1))]
+        ground.cuts[kinds] = _cuts_anew(ground, kinds)
     return ground.cuts[kinds]
 
 
-def _cut_at(ground, kinds, number):
-    one, other = _lots_apart(kinds, number)
-    return put_together(ground.sums, one), put_together(ground.sums, other), number
-
-
-def _lots_apart(summands, number):
-    """Two lots of summands: each but the first one goes where its figure in the number tells."""
-    lots = [[summands[0]], []]
-    for at, summand in enumerate(summands[1:]):
-        lots[(number >> at) & 1].append(summand)
-    return lots
+def _cuts_anew(ground, kinds):
+    # The kinds of all lots, at the numbers whose figures of two tell which summands are in them.
+    made = [None]
+    for kind in kinds:
+        made = made + [kind if lot is None else ground.sums[(lot, kind)] for lot in made]
+    whole = len(made) - 1
+    return [(made[whole - number], made[number], number) for number in range(2, whole, 2)]
 
 
 def lots_of(ground, node, number):
-    """The two lots of a cut of a sum."""
+    """The two lots of a cut of a sum: the figures of two of the number tell which summands are in the second one."""
     key = (node, number)
     if key not in ground.lots:
-        ground.lots[key] = [summands_together(ground, lot) for lot in _lots_apart(node.parts, number)]
+        lots = [[], []]
+        for at, summand in enumerate(node.parts):
+            lots[(number >> at) & 1].append(summand)
+        ground.lots[key] = [summands_together(ground, lot) for lot in lots]
     return ground.lots[key]
 
 
@@ -96,105 +95,135 @@ def both_cases(case):
     return [case, (word, turned(word, triple))]
 
 
+class Plan:
+    """A way to spread a product: a place, the number of a cut of its sum, and the case with its lots in one order."""
+
+    def __init__(self, place, number, case):
+        self.place = place
+        self.number = number
+        self.case = case
+
+
+def _plans(ground, node):
+    """All plans to spread a product at its own factors: they hang on the kinds of these and of their summands alone."""
+    if node.word != "product" or node.is_row:
+        return []
+    key = tuple([(factor.kind, factor.part_kinds) if factor.word == "sum" else factor.kind for factor in node.parts])
+    if key not in ground.plans:
+        ground.plans[key] = _plans_anew(ground, node)
+    return ground.plans[key]
+
+
+def _plans_anew(ground, node):
+    found = []
+    for place in places(ground, node):
+        if place.kind in ground.blocks[place.word]:
+            for one, other, number in cuts(ground, node.parts[place.at]):
+                case = case_of(place, one, other)
+                if fits(ground, case):
+                    found.append(Plan(place, number, case))
+    return found
+
+
 def spread_at(ground, node, place, lots):
     """What a product becomes if it is spread at a place."""
     factors = node.parts
     ahead, behind = factors[place.first:place.at], factors[place.at + 1:place.last + 1]
-    total = flat_sum(ground, [flat_product(ground, ahead + [lot] + behind) for lot in lots])
-    return flat_product(ground, factors[:place.first] + [total] + factors[place.last + 1:])
+    rows = [lot.parts if lot.word == "product" else [lot] for lot in lots]
+    total = summands_together(ground, [factors_together(ground, ahead + row + behind) for row in rows])
+    return factors_together(ground, factors[:place.first] + [total] + factors[place.last + 1:])
+
+
+def _spread_by(ground, node, plan):
+    """What a product becomes if it is spread by a plan."""
+    lots = lots_of(ground, node.parts[plan.place.at], plan.number)
+    return spread_at(ground, node, plan.place, lots)
 
 
 def spread_moves(ground, node):
-    """All spreads of a node, at any depth: a dictionary from the outcomes to dictionaries of their cases.
-
-    A case is told with its lots in one order.
-    """
+    """All spreads of a node, at any depth: the list of the unlike nodes that they make."""
     if node not in ground.onward:
-        ground.onward[node] = _spread_moves_anew(ground, node)
+        made = {_spread_by(ground, node, plan): True for plan in _plans(ground, node)}
+        for at, part in enumerate(node.parts):
+            if not part.is_row:
+                for inner in spread_moves(ground, part):
+                    made[with_part(ground, node, at, inner)] = True
+        ground.onward[node] = list(made)
     return ground.onward[node]
 
 
-def _spread_moves_anew(ground, node):
-    moves = {}
-    for place in places(ground, node):
-        total = node.parts[place.at]
-        for one, other, number in cuts(ground, total):
-            case = case_of(place, one, other)
-            if fits(ground, case):
-                outcome = spread_at(ground, node, place, lots_of(ground, total, number))
-                moves.setdefault(outcome, {})[case] = True
-    for at, part in _parts_that_move(node):
-        for inner, cases in spread_moves(ground, part).items():
-            outcome = with_part(ground, node, at, inner)
-            there = moves.setdefault(outcome, {})
-            for case in cases:
-                there[case] = True
-    return moves
+def spread_cases(ground, node):
+    """The cases by which a product spreads at its own factors, with the lots in one order."""
+    return [plan.case for plan in _plans(ground, node)]
 
 
-def _parts_that_move(node):
-    """The places and the parts of a node that are no things: nothing becomes of a thing."""
-    return [(at, part) for at, part in enumerate(node.parts) if part.parts]
+def cases_to(ground, node, outcome):
+    """The cases by which spreads of a node, at any depth, have an outcome, with the lots in one order."""
+    found = [plan.case for plan in _plans(ground, node) if _spread_by(ground, node, plan) == outcome]
+    for at, part in enumerate(node.parts):
+        for inner in spread_moves(ground, part):
+            if with_part(ground, node, at, inner) == outcome:
+                found.extend(cases_to(ground, part, inner))
+    return found
 
 
 def gather_moves(ground, node):
     """All gatherings of a node, at any depth: the list of the unlike nodes that they make."""
     if node not in ground.backward:
-        ground.backward[node] = _gather_moves_anew(ground, node)
+        made = {outcome: True for outcome in _gathered_here(ground, node)}
+        for at, part in enumerate(node.parts):
+            if not part.is_row:
+                for inner in gather_moves(ground, part):
+                    made[with_part(ground, node, at, inner)] = True
+        ground.backward[node] = list(made)
     return ground.backward[node]
 
 
-def _gather_moves_anew(ground, node):
-    made = {}
-    if node.word == "sum":
-        for outcome in _gathered_here(ground, node.parts):
-            made[outcome] = True
-    for at, part in _parts_that_move(node):
-        for inner in gather_moves(ground, part):
-            made[with_part(ground, node, at, inner)] = True
-    return list(made)
-
-
-def _gathered_here(ground, summands):
+def _gathered_here(ground, node):
+    """What a sum becomes if two of its summands, which have to be products, are gathered."""
+    if node.word != "sum":
+        return []
     made = []
-    for later, other in enumerate(summands):
-        for sooner, one in enumerate(summands[:later]):
-            for gathered in _gathered_pair(ground, one.parts, other.parts):
+    summands = node.parts
+    products = [(at, part) for at, part in enumerate(summands) if part.word == "product"]
+    for many, (later, other) in enumerate(products):
+        for sooner, one in products[:many]:
+            if one.parts[0] == other.parts[0] or one.parts[-1] == other.parts[-1]:
                 rest = summands[:sooner] + summands[sooner + 1:later] + summands[later + 1:]
-                made.append(flat_sum(ground, rest + [gathered]))
+                for gathered in _gathered_pair(ground, one, other):
+                    made.append(summands_together(ground, rest + [gathered]))
     return made
 
 
 def _gathered_pair(ground, one, other):
-    """The products that two rows of factors gather into; things have no factors, so no row."""
+    """The products that two products gather into."""
+    if (one, other) not in ground.gathered:
+        ground.gathered[(one, other)] = _gathered_pair_anew(ground, one, other)
+    return ground.gathered[(one, other)]
+
+
+def _gathered_pair_anew(ground, one, other):
     made = []
-    most = min(len(one), len(other)) - 1
-    for many in range(1, _many_alike(one, other, most) + 1):
-        made.extend(_gathered(ground, "left", one[:many], [one[many:], other[many:]]))
-    if most > 0 and one[-1] == other[-1]:
-        for many in range(1, _many_alike(one[::-1], other[::-1], most) + 1):
-            rows = [one[:len(one) - many], other[:len(other) - many]]
-            made.extend(_gathered(ground, "right", one[len(one) - many:], rows))
+    some, others = _splits(ground, one), _splits(ground, other)
+    # What both begin with is the block of a left triple, what both end with that of a right one.
+    for (head, tail), (other_head, other_tail) in zip(some, others):
+        if head == other_head and (head.kind, tail.kind, other_tail.kind) in ground.triples["left"]:
+            made.append(flat_product(ground, [head, flat_sum(ground, [tail, other_tail])]))
+    for (head, tail), (other_head, other_tail) in zip(some[::-1], others[::-1]):
+        if tail == other_tail and (head.kind, other_head.kind, tail.kind) in ground.triples["right"]:
+            made.append(flat_product(ground, [flat_sum(ground, [head, other_head]), tail]))
     return made
 
 
-def _many_alike(one, other, most):
-    """How many factors, at most so many, two rows have in common from their beginning on."""
-    many = 0
-    while many < most and one[many] == other[many]:
-        many += 1
-    return many
-
-
-def _gathered(ground, word, block, rows):
-    """The product of a block and two lots in a list, empty if the rule has no triple for it."""
-    kind = row_kind(ground, block)
-    one, other = [row_kind(ground, row) for row in rows]
-    case = (word, (kind, one, other)) if word == "left" else (word, (one, other, kind))
-    if not fits(ground, case):
-        return []
-    total = flat_sum(ground, [flat_product(ground, row) for row in rows])
-    return [flat_product(ground, block + [total] if word == "left" else [total] + block)]
+def _splits(ground, node):
+    """The tuples of what a product begins with and of what is left, rising by the number of factors ahead."""
+    if node not in ground.splits:
+        factors = node.parts
+        ground.splits[node] = [
+            (factors_together(ground, factors[:at]), factors_together(ground, factors[at:]))
+            for at in range(1, len(factors))
+        ]
+    return ground.splits[node]
 
 
 def full_nodes(ground, node):
@@ -221,9 +250,9 @@ def fitting_lots(ground, place, summands):
     """
     kinds = sorted([part.kind for part in summands])
     key = (place.word, place.kind, tuple(kinds))
-    if key not in ground.fitting:
-        ground.fitting[key] = _fitting_kinds(ground, place, kinds)
-    wanted = ground.fitting[key]
+    if key not in ground.fitting_lots:
+        ground.fitting_lots[key] = _fitting_kinds(ground, place, kinds)
+    wanted = ground.fitting_lots[key]
     if wanted is None:
         return None
     missing = list(wanted)

@@ -11,21 +11,24 @@ from kindspreads.plain import is_word
 class Node:
     """A thing, a sum or a product of a ground, its parts being nodes of this ground, too."""
 
-    def __init__(self, word, parts, text, factor_text, kind):
+    def __init__(self, word, parts, part_kinds, text, factor_text, kind, is_row):
         self.word = word
         self.parts = parts
+        # The kinds of the parts, as a tuple.
+        self.part_kinds = part_kinds
         self.text = text
         self.factor_text = factor_text
         self.kind = kind
-        # Most nodes are steps on the way to others: their terms are made when they are asked for.
-        self.term_made = None
+        # Whether it is a thing or a row of things: such a one has neither a spread nor a gathering, whatever the rule.
+        self.is_row = is_row
+        # Most nodes are steps on the way to others: these are told when they are asked for, see term and wholes.
+        self.term_made = text if word == "thing" else None
+        self.measure = None
 
     def term(self):
         """The term of the node."""
-        if self.word == "thing":
-            return self.text
         if self.term_made is None:
-            self.term_made = (self.word, *[part.term() for part in self.parts])
+            self.term_made = (self.word, *[part.term_made or part.term() for part in self.parts])
         return self.term_made
 
     def size(self):
@@ -38,38 +41,43 @@ class Ground:
     """What nodes are made by: the tables and the triples of a rule, and the kinds of things."""
 
     def __init__(self, rule, sorts):
+        self.rule = rule
         self.sums = rule.kinds().sum_table
         self.products = rule.kinds().product_table
         self.triples = rule.triples
+        # The kinds of blocks that spread with any lots at all.
+        self.blocks = {
+            "left": {triple[0]: True for triple in rule.triples["left"]},
+            "right": {triple[2]: True for triple in rule.triples["right"]},
+        }
         self.sorts = sorts
-        self.things = {thing: Node("thing", [], thing, thing, kind) for thing, kind in sorts.items()}
-        # All sums and products that were made, by their texts: terms nest too deep to be keys themselves.
+        self.things = {thing: Node("thing", [], (), thing, thing, kind, True) for thing, kind in sorts.items()}
+        # All sums and products that were made, by their texts, and those that were judged to be terms, by what
+        # repr tells of them: terms nest too deep to be keys themselves.
         self.known = {}
+        self.judged = {}
         # What was found out about nodes, by these: see moves, and for the last one walks.
         self.lots = {}
+        self.splits = {}
+        self.gathered = {}
         self.onward = {}
         self.backward = {}
         self.fulls = {}
         self.classes = {}
         # What only the kinds of summands and blocks tell: see moves.
         self.cuts = {}
-        self.fitting = {}
+        self.plans = {}
+        self.fitting_lots = {}
 
 
 def flat_sum(ground, nodes):
     """The sum of nodes, the summands of sums standing by themselves; one alone is itself."""
-    parts = _parts_apart("sum", nodes)
-    if len(parts) == 1:
-        return parts[0]
-    return _sum_node(ground, sorted(parts, key=lambda part: part.text))
+    return summands_together(ground, _parts_apart("sum", nodes))
 
 
 def flat_product(ground, nodes):
     """The product of nodes, the factors of products standing by themselves; one alone is itself."""
-    parts = _parts_apart("product", nodes)
-    if len(parts) == 1:
-        return parts[0]
-    return _product_node(ground, parts)
+    return factors_together(ground, _parts_apart("product", nodes))
 
 
 def flat(ground, word, nodes):
@@ -80,17 +88,36 @@ def flat(ground, word, nodes):
 
 
 def summands_together(ground, summands):
-    """The sum of some summands of a sum, which stand in their order; one alone is itself."""
+    """The sum of some summands, none of them a sum, in any order; one alone is itself."""
     if len(summands) == 1:
         return summands[0]
-    return _sum_node(ground, summands)
+    # Most sums are known already: then it is enough to put their texts in order.
+    texts = [part.text for part in summands]
+    rising = sorted(texts)
+    text = " + ".join(rising)
+    node = ground.known.get(text)
+    if node is None:
+        parts = summands if texts == rising else sorted(summands, key=lambda part: part.text)
+        kinds = tuple([part.kind for part in parts])
+        # A sum of things alone has no blanks but those beside its plus signs.
+        is_row = text.count(" ") == 2 * len(parts) - 2
+        node = Node("sum", parts, kinds, text, f"({text})", put_together(ground.sums, kinds), is_row)
+        ground.known[text] = node
+    return node
 
 
 def factors_together(ground, factors):
     """The product of some factors, none of them a product; one alone is itself."""
     if len(factors) == 1:
         return factors[0]
-    return _product_node(ground, factors)
+    text = " ".join([part.factor_text for part in factors])
+    node = ground.known.get(text)
+    if node is None:
+        kinds = tuple([part.kind for part in factors])
+        is_row = "(" not in text
+        node = Node("product", factors, kinds, text, text, put_together(ground.products, kinds), is_row)
+        ground.known[text] = node
+    return node
 
 
 def _parts_apart(word, nodes):
@@ -103,25 +130,11 @@ def _parts_apart(word, nodes):
     return parts
 
 
-def _sum_node(ground, parts):
-    text = " + ".join([part.text for part in parts])
-    if text not in ground.known:
-        kind = put_together(ground.sums, [part.kind for part in parts])
-        ground.known[text] = Node("sum", parts, text, f"({text})", kind)
-    return ground.known[text]
-
-
-def _product_node(ground, parts):
-    text = " ".join([part.factor_text for part in parts])
-    if text not in ground.known:
-        kind = put_together(ground.products, [part.kind for part in parts])
-        ground.known[text] = Node("product", parts, text, text, kind)
-    return ground.known[text]
-
-
 def with_part(ground, node, at, part):
     """A node with another part in the place of one, put together flat."""
-    return flat(ground, node.word, node.parts[:at] + [part] + node.parts[at + 1:])
+    middle = part.parts if part.word == node.word else [part]
+    parts = node.parts[:at] + middle + node.parts[at + 1:]
+    return summands_together(ground, parts) if node.word == "sum" else factors_together(ground, parts)
 
 
 def node_of(ground, term):
@@ -135,6 +148,20 @@ def node_in(ground, value):
     """The node of any object that is a term of the ground's things, None of any other one."""
     if isinstance(value, str):
         return ground.things.get(value)
+    if not isinstance(value, tuple):
+        return None
+    # A term is made of tuples and strings, which nobody can change, and repr tells nothing else like it.
+    told = repr(value)
+    if told not in ground.judged:
+        node = _node_judged(ground, value)
+        if node is None:
+            return None
+        ground.judged[told] = node
+    return ground.judged[told]
+
+
+def _node_judged(ground, value):
+    """The node of any object that is a sum or a product of the ground's things, None of any other one."""
     if not isinstance(value, tuple) or len(value) < 3:
         return None
     word = value[0]
@@ -142,14 +169,14 @@ def node_in(ground, value):
         return None
     parts = []
     for part in value[1:]:
-        node = node_in(ground, part)
+        node = ground.things.get(part) if isinstance(part, str) else _node_judged(ground, part)
         if node is None or node.word == word:
             return None
         parts.append(node)
     if word == "product":
-        return _product_node(ground, parts)
+        return factors_together(ground, parts)
     texts = [part.text for part in parts]
-    return _sum_node(ground, parts) if texts == sorted(texts) else None
+    return summands_together(ground, parts) if texts == sorted(texts) else None
 
 
 def by_text(nodes):

@@ -18,21 +18,31 @@ def plus_signs(book, term):
 
 def signs_of(node, word):
     """How many times signs, or plus signs, a node has, by the word of what they belong to."""
-    own = len(node.parts) - 1 if node.word == word else 0
-    return own + sum([signs_of(part, word) for part in node.parts])
+    # In the text a plus sign stands between two blanks, and a times sign is a blank alone.
+    plus = node.text.count("+")
+    return plus if word == "sum" else node.text.count(" ") - 2 * plus
 
 
 def price(book, prices, term):
     """What all signs of a term cost."""
-    return _price_of(prices, _priced_nodes(book, prices, term)[1])
+    return _price_of(prices, _priced_nodes(book, prices, term)[1], {})
 
 
-def _price_of(prices, node):
-    if node.word == "thing":
+def _price_of(prices, node, known):
+    """The price of a node; a dictionary keeps those of nodes that were asked for."""
+    if not node.parts:
         return 0
-    by_kind = prices[1] if node.word == "sum" else prices[0]
-    own = (len(node.parts) - 1) * by_kind[node.kind]
-    return own + sum([_price_of(prices, part) for part in node.parts])
+    if node not in known:
+        by_kind = prices[1] if node.word == "sum" else prices[0]
+        own = (len(node.parts) - 1) * by_kind[node.kind]
+        known[node] = own + sum([_price_of(prices, part, known) for part in node.parts])
+    return known[node]
+
+
+def _prices_of(prices, nodes):
+    """The prices of some nodes, in their order."""
+    known = {}
+    return [_price_of(prices, node, known) for node in nodes]
 
 
 def _priced_nodes(book, prices, term):
@@ -63,7 +73,7 @@ def least_price(book, prices, term):
 
 
 def _least(ground, prices, node):
-    return min([_price_of(prices, kin) for kin in kin_nodes(ground, node)])
+    return min(_prices_of(prices, kin_nodes(ground, node)))
 
 
 def cheapest(book, prices, term):
@@ -77,23 +87,23 @@ def is_cheapest(book, prices, term, value):
     nodes = listed_nodes(ground, [value])
     if nodes is None or nodes[0] not in kin_nodes(ground, node):
         return False
-    return _price_of(prices, nodes[0]) == _least(ground, prices, node)
+    return _price_of(prices, nodes[0], {}) == _least(ground, prices, node)
 
 
 def many_by_price(book, prices, term):
     """The dictionary from the prices of kin terms, ascending, to how many of them cost so much."""
     ground, node = _priced_nodes(book, prices, term)
-    return tally([_price_of(prices, kin) for kin in kin_nodes(ground, node)])
+    return tally(_prices_of(prices, kin_nodes(ground, node)))
 
 
 def way_to_cheapest(book, prices, term):
     """Any chain from a term to a kin term of the least price."""
     ground, node = _priced_nodes(book, prices, term)
-    before = steps_before(ground, node)
-    least = _least(ground, prices, node)
     # The walk begins with the term itself: it stays where nothing is cheaper.
-    ends = [kin for kin in before if _price_of(prices, kin) == least]
-    return [each.term() for each in way_back(before, ends[0])]
+    before = steps_before(ground, node)
+    nodes = list(before)
+    told = _prices_of(prices, nodes)
+    return [each.term() for each in way_back(before, nodes[told.index(min(told))])]
 
 
 def is_way_to_cheapest(book, prices, term, value):
@@ -102,7 +112,7 @@ def is_way_to_cheapest(book, prices, term, value):
     nodes = listed_nodes(ground, value)
     if not nodes or nodes[0] != node or not is_way(ground, nodes):
         return False
-    return _price_of(prices, nodes[-1]) == _least(ground, prices, node)
+    return _price_of(prices, nodes[-1], {}) == _least(ground, prices, node)
 
 
 def fewest_times(book, term):

@@ -197,7 +197,7 @@ def same_everywhere(one, other):
 
 def _are_the_same(one, other):
     ground = need_ground(one.book())
-    return are_kin_nodes(one.book(), ground, _result_node(ground, one), _result_node(ground, other))
+    return are_kin_nodes(ground, _result_node(ground, one), _result_node(ground, other))
 
 
 def saved(one, other):

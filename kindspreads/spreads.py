@@ -1,7 +1,8 @@
 """Single spreads of products over sums, and gatherings, the contrary."""
 
 from kindspreads.errors import InvalidTerm
-from kindspreads.moves import both_cases, case_of, cuts, fits, gather_moves, places, spread_moves
+from kindspreads.moves import both_cases, case_of, cases_to, cuts, fits, gather_moves, places, spread_cases
+from kindspreads.moves import spread_moves
 from kindspreads.nodes import inner_nodes, node_in, terms_by_text
 from kindspreads.terms import need_ground, need_node
 from kindspreads.walks import is_one_spread
@@ -50,16 +51,15 @@ def is_gathering(book, term, value):
 def cases(book, term):
     """The ascending list of the unlike cases by which the spreads of a term go."""
     ground = need_ground(book)
-    moves = spread_moves(ground, need_node(ground, term))
-    return _either_order([case for told in moves.values() for case in told])
+    inner = list(inner_nodes(need_node(ground, term)).values())
+    return _either_order([case for node in inner for case in spread_cases(ground, node)])
 
 
 def cases_of(book, term, outcome):
     """The ascending list of the unlike cases by which the spreads with an outcome go."""
     ground = need_ground(book)
     node = need_node(ground, term)
-    there = _need_outcome(ground, node, outcome)
-    return _either_order(list(spread_moves(ground, node)[there]))
+    return _either_order(cases_to(ground, node, _need_outcome(ground, node, outcome)))
 
 
 def _need_outcome(ground, node, outcome):

@@ -69,34 +69,34 @@ def kin_struck(book, one, other):
     one_left, other_left = _nodes_left(ground, nodes)
     if one_left is None or other_left is None:
         return one_left is None and other_left is None
-    return are_kin_nodes(book, ground, one_left, other_left)
+    return are_kin_nodes(ground, one_left, other_left)
 
 
 def frees(book, one, other, third):
     """Whether two terms that are not kin become kin if a third one is put to both as a summand."""
     ground, nodes = _two_nodes(book, one, other)
     summand = need_node(ground, third)
-    _need_apart(book, ground, nodes, other)
-    return _are_kin_with(book, ground, nodes, summand)
+    _need_apart(ground, nodes, other)
+    return _are_kin_with(ground, nodes, summand)
 
 
-def _need_apart(book, ground, nodes, other):
+def _need_apart(ground, nodes, other):
     """Raise an error with the second one of two terms if they are kin."""
-    if are_kin_nodes(book, ground, nodes[0], nodes[1]):
+    if are_kin_nodes(ground, nodes[0], nodes[1]):
         raise Refused(other)
 
 
-def _are_kin_with(book, ground, nodes, summand):
+def _are_kin_with(ground, nodes, summand):
     """Whether two nodes are kin if a third one is put to both as a summand."""
     one, other = [flat_sum(ground, [node, summand]) for node in nodes]
-    return are_kin_nodes(book, ground, one, other)
+    return are_kin_nodes(ground, one, other)
 
 
 def freeing_things(book, one, other):
     """The list of the things that make kin of two terms if they are put to both as a summand, ascending."""
     ground, nodes = _two_nodes(book, one, other)
-    _need_apart(book, ground, nodes, other)
-    return [thing for thing, node in ground.things.items() if _are_kin_with(book, ground, nodes, node)]
+    _need_apart(ground, nodes, other)
+    return [thing for thing, node in ground.things.items() if _are_kin_with(ground, nodes, node)]
 
 
 def hides(book, one, other, thing, word):
@@ -106,32 +106,32 @@ def hides(book, one, other, thing, word):
         raise InvalidTerm(thing)
     if not is_one_of(word, BESIDE):
         raise InvalidWord(word)
-    _need_apart(book, ground, nodes, other)
-    return _are_kin_by_factor(book, ground, nodes, ground.things[thing], word)
+    _need_apart(ground, nodes, other)
+    return _are_kin_by_factor(ground, nodes, ground.things[thing], word)
 
 
-def _are_kin_by_factor(book, ground, nodes, factor, word):
+def _are_kin_by_factor(ground, nodes, factor, word):
     rows = [[factor, node] if word == "ahead" else [node, factor] for node in nodes]
     one, other = [flat_product(ground, row) for row in rows]
-    return are_kin_nodes(book, ground, one, other)
+    return are_kin_nodes(ground, one, other)
 
 
 def hiding_things(book, one, other):
     """The ascending list of the words and things that make kin of two terms as a factor on this side."""
     ground, nodes = _two_nodes(book, one, other)
-    _need_apart(book, ground, nodes, other)
+    _need_apart(ground, nodes, other)
     return [
         (word, thing)
         for word in BESIDE
         for thing, factor in ground.things.items()
-        if _are_kin_by_factor(book, ground, nodes, factor, word)
+        if _are_kin_by_factor(ground, nodes, factor, word)
     ]
 
 
 def kin_pairs(book, terms):
     """The ascending list of the tuples of two positions, rising, of terms that are kin."""
     ground = need_ground(book)
-    return _pairs_of_kin(book, ground, _need_few_nodes(ground, terms))
+    return _pairs_of_kin(ground, _need_few_nodes(ground, terms))
 
 
 def _need_few_nodes(ground, terms):
@@ -142,11 +142,11 @@ def _need_few_nodes(ground, terms):
     return nodes
 
 
-def _pairs_of_kin(book, ground, nodes):
+def _pairs_of_kin(ground, nodes):
     return [
         (one, other)
         for one, other in combinations(range(len(nodes)), 2)
-        if are_kin_nodes(book, ground, nodes[one], nodes[other])
+        if are_kin_nodes(ground, nodes[one], nodes[other])
     ]
 
 
@@ -155,4 +155,4 @@ def pairs_with(book, terms, third):
     ground = need_ground(book)
     nodes = _need_few_nodes(ground, terms)
     summand = need_node(ground, third)
-    return _pairs_of_kin(book, ground, [flat_sum(ground, [node, summand]) for node in nodes])
+    return _pairs_of_kin(ground, [flat_sum(ground, [node, summand]) for node in nodes])

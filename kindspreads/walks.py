@@ -6,7 +6,7 @@ from kindspreads.nodes import by_text, node_in
 
 def neighbours(ground, node):
     """The unlike outcomes of the spreads and the gatherings of a node; none is both, as spreads make more things."""
-    return list(spread_moves(ground, node)) + gather_moves(ground, node)
+    return spread_moves(ground, node) + gather_moves(ground, node)
 
 
 def kin_nodes(ground, node):

@@ -41,6 +41,12 @@ def word_things(book, term):
 
 def words_and_things(node):
     """How many words a node has and how many things these have, without going through them."""
+    if node.measure is None:
+        node.measure = _measured(node)
+    return node.measure
+
+
+def _measured(node):
     if node.word == "thing":
         return 1, 1
     told = [words_and_things(part) for part in node.parts]

@@ -131,7 +131,7 @@ def telling_world(book, one, other):
     """Any tuple of a World that fits the rule and inputs that tell two terms apart, None if they are kin."""
     ground = need_ground(book)
     nodes = [need_node(ground, term) for term in (one, other)]
-    if are_kin_nodes(book, ground, nodes[0], nodes[1]):
+    if are_kin_nodes(ground, nodes[0], nodes[1]):
         return None
     return world_of(book, one)
 

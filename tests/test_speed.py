@@ -3,13 +3,16 @@
 import time
 import unittest
 
+from kindspreads.classes import class_size
 from kindspreads.fulls import copied_things, full_spread, is_full
 from kindspreads.kin import are_kin, chain, is_chain
 from kindspreads.kinds import Kinds, is_plus_table
+from kindspreads.prices import fewest_times, is_way_to_cheapest, least_price, many_by_price, many_by_signs, way_to_cheapest
 from kindspreads.rules import Rule, whole_rule
 from kindspreads.spreads import cases, gatherings, lacking, many_things, spreads
 from kindspreads.terms import Book, depth, inner_terms, kind_of, mirrored_term, parts_of, term_of
 from kindspreads.wholes import is_small, is_whole, many_words, whole_of, word_things, words_of
+from tests.books import stop_book
 from tests.helper import one_kind, table
 
 TEXTS = ["a (b + c (d + e)) f + g (h + i)", "(a + b) (c + d) (e + f (g + h)) i", "a b c + d e f + g h i",
@@ -30,6 +33,20 @@ class SpeedTest(unittest.TestCase):
             book = Book(Rule(kinds, left, []), things)
             QUESTIONS[at % len(QUESTIONS)](book, term_of(TEXTS[at % len(TEXTS)]))
         self.assertLess(time.process_time() - begun, 0.2)
+
+    def test_questions_about_the_classes_of_a_few_terms(self):
+        # Less than 0.2 seconds on a fast machine.
+        terms = [term_of(text) for text in ("(a + b) (c + d)", "a (b + c + d + e)", "(a + b + c) (d + e)")]
+        prices = ({"p": 3, "w": 1}, {"p": 1, "w": 0})
+        begun = time.process_time()
+        for _ in range(100):
+            for term in terms:
+                book = stop_book()
+                told = [least_price(book, prices, term), many_by_price(book, prices, term), fewest_times(book, term), many_by_signs(book, term)]
+                way = way_to_cheapest(book, prices, term)
+                self.assertIs(is_way_to_cheapest(book, prices, term, way), True)
+                self.assertEqual([sum(told[1].values()), sum(told[3].values())], [class_size(book, term)] * 2)
+        self.assertLess(time.process_time() - begun, 5)
 
     def test_tables_of_many_words(self):
         begun = time.process_time()

@@ -107,6 +107,21 @@ class TermTest(unittest.TestCase):
             self.assertIs(caught.exception.value, value)
         self.assertEqual([text_of(value) for value in OF_OTHER_BOOKS], ["z", "a + z", "a (b + z)", "abcdefgh"])
 
+    def test_what_looks_like_a_term_that_was_judged(self):
+        book = stop_book()
+        term = ("sum", ("product", "a", "b"), "c")
+        alike = [["sum", ("product", "a", "b"), "c"], ("sum", ["product", "a", "b"], "c"), ("sum", ("product", "a", "b"), ["c"]), str(term), repr(term), text_of(term),
+                 ("sum", ("product", "a', 'b"), "c"), ("sum", "('product', 'a', 'b')", "c"), ("sum', ('product', 'a', 'b'), 'c",), ("sum", ("product", "a", "b"), "c", True),
+                 ("sum", ("product", "a", "b"), True), ("sum", ("product", "a", 1), "c"), {0: term}, (term,), ("sum", ("product", "a", "b"), "c", ())]
+        for _ in range(2):
+            self.assertIs(is_term(book, term), True)
+            self.assertIs(is_term(book, ("sum", ("product", "a", "b"), "".join(["c"]))), True)
+            for value in alike:
+                self.assertIs(is_term(book, value), False, value)
+                with self.assertRaises(InvalidTerm) as caught:
+                    kind_of(book, value)
+                self.assertIs(caught.exception.value, value)
+
     def test_all_terms_of_few_things(self):
         book = Book(Rule(one_kind(), [], []), {"a": "p", "b": "p"})
         texts = []

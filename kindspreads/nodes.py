@@ -8,6 +8,10 @@ from kindspreads.kinds import put_together
 from kindspreads.plain import is_word
 
 
+# So many terms that were judged last are kept: looking through more would take longer than judging anew.
+MOST_JUDGED = 30
+
+
 class Node:
     """A thing, a sum or a product of a ground, its parts being nodes of this ground, too."""
 
@@ -52,10 +56,11 @@ class Ground:
         }
         self.sorts = sorts
         self.things = {thing: Node("thing", [], (), thing, thing, kind, True) for thing, kind in sorts.items()}
-        # All sums and products that were made, by their texts, and those that were judged to be terms, by what
-        # repr tells of them: terms nest too deep to be keys themselves.
+        # All sums and products that were made, by their texts: terms nest too deep to be keys themselves.
         self.known = {}
-        self.judged = {}
+        # The terms that were judged last, and their nodes, in one order: see node_in.
+        self.judged = []
+        self.judged_nodes = []
         # What was found out about nodes, by these: see moves, and for the last one walks.
         self.lots = {}
         self.splits = {}
@@ -150,14 +155,17 @@ def node_in(ground, value):
         return ground.things.get(value)
     if not isinstance(value, tuple):
         return None
-    # A term is made of tuples and strings, which nobody can change, and repr tells nothing else like it.
-    told = repr(value)
-    if told not in ground.judged:
-        node = _node_judged(ground, value)
-        if node is None:
-            return None
-        ground.judged[told] = node
-    return ground.judged[told]
+    # Most terms are passed several times: as they are made of tuples and strings, nobody can change them.
+    if value in ground.judged:
+        return ground.judged_nodes[ground.judged.index(value)]
+    node = _node_judged(ground, value)
+    if node is not None:
+        if len(ground.judged) == MOST_JUDGED:
+            ground.judged = []
+            ground.judged_nodes = []
+        ground.judged.append(value)
+        ground.judged_nodes.append(node)
+    return node
 
 
 def _node_judged(ground, value):

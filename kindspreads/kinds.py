@@ -154,6 +154,19 @@ def can_be_right(kinds):
     return list(triples_holding(kinds, "right"))
 
 
+def holds(kinds, word, triple):
+    """Whether a tuple of three strings is a triple of a side that holds in the tables."""
+    if word in kinds.holding_triples:
+        return triple in kinds.holding_triples[word]
+    if not all([each in kinds.kind_words for each in triple]):
+        return False
+    sums, products = kinds.sum_table, kinds.product_table
+    first, second, third = triple
+    if word == "left":
+        return products[(first, sums[(second, third)])] == sums[(products[(first, second)], products[(first, third)])]
+    return products[(sums[(first, second)], third)] == sums[(products[(first, third)], products[(second, third)])]
+
+
 def triples_holding(kinds, word):
     """ALL triples of a side that hold in the tables, ascending: a dictionary that is not to be changed."""
     if word not in kinds.holding_triples:

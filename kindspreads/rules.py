@@ -1,10 +1,13 @@
 """Rules: for which kinds a product spreads over a sum, from the left and from the right."""
 
 from kindspreads.errors import InvalidMap, InvalidRule, InvalidTriples, InvalidWord, Unlike
-from kindspreads.kinds import can_be_left, can_be_right, need_kinds, opposite, renamed, triples_holding
+from kindspreads.kinds import can_be_left, can_be_right, holds, need_kinds, opposite, renamed, triples_holding
 from kindspreads.plain import is_map_to_words, is_one_of
 
 SIDES = ("left", "right")
+
+# Of so few triples each is tried alone; of more it is worth while to look for ALL that hold.
+FEW = 4
 
 
 class Rule:
@@ -54,14 +57,20 @@ def turned(word, triple):
 
 def is_triple_of(kinds, word, value):
     """Whether any object is a triple of a side that holds in the tables."""
-    if not isinstance(value, tuple) or len(value) != 3:
-        return False
-    # What is no string cannot always be looked up.
-    return all([isinstance(kind, str) for kind in value]) and value in triples_holding(kinds, word)
+    return _is_row_of_three(value) and holds(kinds, word, value)
+
+
+def _is_row_of_three(value):
+    return isinstance(value, tuple) and len(value) == 3 and all([isinstance(each, str) for each in value])
 
 
 def _are_triples_of(kinds, word, value):
-    return isinstance(value, list) and all([is_triple_of(kinds, word, each) for each in value])
+    if not isinstance(value, list) or not all([_is_row_of_three(each) for each in value]):
+        return False
+    if len(value) <= FEW:
+        return all([holds(kinds, word, each) for each in value])
+    holding = triples_holding(kinds, word)
+    return all([each in holding for each in value])
 
 
 def need_triples(kinds, word, value):

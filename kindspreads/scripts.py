@@ -99,7 +99,7 @@ def _lines_of(script, margin):
     lines = []
     for word, *given in script:
         if word == "try":
-            lines.extend([margin + "try", *_lines_of(given[0], margin + "  "), margin + "end"])
+            lines += [margin + "try"] + _lines_of(given[0], margin + "  ") + [margin + "end"]
         else:
             words = [figures(each) if is_count(each) else form_text(each) for each in given]
             lines.append(margin + " ".join([word] + words))
